@@ -1,0 +1,1 @@
+"""Bitloom: from told hardware to the bits of a fabric, and back."""

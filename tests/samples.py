@@ -1,0 +1,187 @@
+"""Designs for tests, made by chance from seeds, and changed by chance."""
+
+import random
+
+from bitloom.forms import MEMBERS, NOT_EMPTY, SEQUENCES, SHAPES, WORDS
+
+TEXTS = [
+    """design {
+  module count size w { in on bits 1; out now bits w; reg r bits w = 0 <- on ? r + bits(w, 1) : r; now = r; }
+  top count size 8;
+}""",
+    """design {
+  module next size w { in a bits w; out s bits w; out c bits 1; s = a + bits(w, 1); c = &a; }
+  module main size n, w {
+    in x bits w; in go bits 1; out y bits w; out z bits 2 * w; out odd bits 1;
+    for i = 0 to n {
+      wire t bits w;
+      u : next size w (a = t[i]);
+      reg r bits w = i * 3 - 1 <- go ? u[i].s : r[i];
+      when i == 0 { t[i] = x; } else { t[i] = u[i - 1].s ^ r[i - 1]; }
+    }
+    mem m[5] bits w [x{0:2}] <- r[0] when go | u[0].c;
+    y = m@(x{0:3}) ^ r[n - 1];
+    z = (x # r[1]) >> bits(3, 2) ;
+    odd = (^z{1:w} < z ! x) & ~go;
+  }
+  top main size 3, 4;
+}""",
+    """design {
+  module leaf size w, k {
+    in d bits w; in en bits 1; out q bits w; out full bits 1;
+    reg v bits w = k <- en ? d : v;
+    when k < 2 { q = v; full = &v & |d; } else { wire h bits w; h = v * d; q = h - v; full = h == v; }
+  }
+  module pair size w {
+    in d bits w; in en bits 1; out q bits w;
+    a : leaf size w, 1 (d = d, en = en);
+    b : leaf size w, 2 (en = a.full, d = a.q);
+    q = b.q << a.q{0:1} | a.q;
+  }
+  module main {
+    in d bits 6; in en bits 1; out q bits 6; out s bits 12; out f bits 1;
+    for i = 1 to 3 { for j = 0 to i { p : pair size 6 (d = d ^ bits(6, i * 8 + j), en = en); } }
+    q = p[1, 0].q ^ p[2, 0].q ^ p[2, 1].q;
+    s = q # (d - q);
+    mem k[3] bits 12 [en # en] <- s when ~en;
+    f = ^k@(q{2:2}) ^ |(k@bits(7, 100));
+  }
+  top main;
+}""",
+    """design {
+  module ring size n {
+    in a bits n; out z bits n;
+    for i = 0 to n { wire c bits 1; when i == 0 { c[i] = a{0:1}; } else { c[i] = c[i - 1] & a{i:1}; } }
+    wire spare bits 3;
+    spare = a{0:1} ? a{0:3} : bits(3, 0 - 1);
+    z = c[n - 1] ? a : ~a;
+  }
+  top ring size 4;
+}""",
+]
+
+
+def random_name(dice):
+    """A name, mostly a short one of few."""
+    return dice.choice(["a", "b", "c", "u", "w", "i", "x_1", "name", "number", "abcdefghijklmnop", "q0"])
+
+
+def random_part(dice, kind, deep):
+    """A part of a kind that is right as a tree, at most deep within."""
+    if kind == "name":
+        return random_name(dice)
+    if kind == "integer":
+        return dice.choice([0, 1, 2, 7, 10, 64, 12345678901234567890])
+    if kind in SEQUENCES:
+        least = 1 if kind in NOT_EMPTY else 0
+        return tuple(random_part(dice, SEQUENCES[kind], deep - 1) for _ in range(dice.randint(least, 3)))
+    if kind in SHAPES:
+        return tuple(random_part(dice, inner, deep - 1) for inner in SHAPES[kind])
+    words = WORDS[kind]
+    if deep <= 0:
+        words = {"item": ("in", "out", "wire"), "number": ("number", "size"), "place": ("name",)}.get(kind, ("name",))
+    word = dice.choice(words)
+    return (word, *[random_part(dice, inner, deep - 1) for inner in MEMBERS[word]])
+
+
+def random_flat(dice, many):
+    """A flat design with many rows behind those of its ins and registers."""
+    ins = tuple((f"i{k}", dice.choice([1, 1, 2, 3, 5, 8, 64])) for k in range(dice.randint(0, 3)))
+    kept = [(f"r{k}", dice.choice([1, 2, 3])) for k in range(dice.randint(0, 2))]
+    rows = [("in", k) for k in range(len(ins))] + [("reg", k) for k in range(len(kept))]
+    widths = [width for _, width in ins] + [width for _, width in kept]
+    rows.append(("word", 1, 1))
+    widths.append(1)
+    while len(rows) < many:
+        row, width = _random_row(dice, widths)
+        if row is not None:
+            rows.append(row)
+            widths.append(width)
+    regs = []
+    for name, width in kept:
+        fitting = [k for k, other in enumerate(widths) if other == width]
+        regs.append((name, width, dice.randrange(2**width), dice.choice(fitting)))
+    outs = tuple((f"o{k}", dice.randrange(len(rows))) for k in range(dice.randint(1, 3)))
+    return ins, outs, tuple(regs), tuple(rows)
+
+
+def _random_row(dice, widths):
+    """A row and its width, or (None, None) if it does not fit."""
+    word = dice.choice(
+        "word not all any odd and or xor add sub mul eq lt join shl shr pick cut mux mux add and xor".split()
+    )
+    a, b, c = [dice.randrange(len(widths)) for _ in range(3)]
+    if word == "word":
+        width = dice.choice([1, 2, 3, 5, 8, 64])
+        return (word, width, dice.randrange(2**width)), width
+    if word in ("not", "all", "any", "odd"):
+        return (word, a), widths[a] if word == "not" else 1
+    if word in ("shl", "shr", "pick"):
+        return (word, a, b), 1 if word == "pick" else widths[a]
+    if word == "cut":
+        low = dice.randrange(widths[a])
+        width = dice.randint(1, widths[a] - low)
+        return (word, a, low, width), width
+    if word == "join":
+        return ((word, a, b), widths[a] + widths[b]) if widths[a] + widths[b] <= 64 else (None, None)
+    like = [k for k, width in enumerate(widths) if width == widths[a]]
+    b = dice.choice(like)
+    if word == "mux":
+        ones = [k for k, width in enumerate(widths) if width == 1]
+        return (word, dice.choice(ones), a, b), widths[a]
+    return (word, a, b), 1 if word in ("eq", "lt") else widths[a]
+
+
+def random_lots(dice, widths, many):
+    """Lots of values of some widths."""
+    return [tuple(dice.randrange(2**width) for width in widths) for _ in range(many)]
+
+
+def random_graph(dice, many_ins, many_regs, many_ands, many_outs):
+    """A graph."""
+    ands = []
+    first = 1 + many_ins + many_regs
+    for k in range(many_ands):
+        ands.append((dice.randrange(2 * (first + k)), dice.randrange(2 * (first + k))))
+    every = 2 * (first + many_ands)
+    regs = tuple((dice.randrange(2), dice.randrange(every)) for _ in range(many_regs))
+    return many_ins, regs, tuple(ands), tuple(dice.randrange(every) for _ in range(many_outs))
+
+
+def replaced(value, path, part):
+    """A value with another part at a path."""
+    if not path:
+        return part
+    k = path[0]
+    return value[:k] + (replaced(value[k], path[1:], part),) + value[k + 1:]
+
+
+def kinds_of_parts(kind, part, path=()):
+    """The triples (path, kind, part) of all parts of a design's part."""
+    found = [(path, kind, part)]
+    if kind in SEQUENCES:
+        inner = [(k, SEQUENCES[kind]) for k in range(len(part))]
+    elif kind in WORDS:
+        inner = [(k + 1, other) for k, other in enumerate(MEMBERS[part[0]])]
+    else:
+        inner = list(enumerate(SHAPES.get(kind, ())))
+    for k, other in inner:
+        found.extend(kinds_of_parts(other, part[k], path + (k,)))
+    return found
+
+
+def changed_design(dice, design):
+    """A design with one part that is exchanged, left out, or told twice."""
+    parts = kinds_of_parts("design", design)
+    path, kind, part = dice.choice(parts[1:])
+    if kind in ("items", "ports", "numbers", "modules") and part and dice.random() < 0.7:
+        k = dice.randrange(len(part))
+        rest = part[:k] + part[k + 1:]
+        if dice.random() < 0.5 and (rest or kind != "modules"):
+            return replaced(design, path, rest)
+        at = dice.randint(0, len(part))
+        return replaced(design, path, part[:at] + (part[k],) + part[at:])
+    if kind == "integer":
+        return replaced(design, path, dice.choice([0, 1, 2, 3, 5, 30, 64, 65, 257, 2 * 10**9]))
+    like = [other for _, also, other in parts if also == kind]
+    return replaced(design, path, dice.choice(like))
