@@ -220,7 +220,8 @@ def unrolled(design):
     while todo:
         use, where, around = todo.pop()
         instance = _opened(unroller, use, where, around)
-        use.thing.inside = instance
+        thing = use.thing
+        thing.inside = instance
         found.append(instance)
         _unroll(unroller, instance)
         todo.extend(_uses_in(instance))

@@ -7,7 +7,7 @@ from bitloom.names import is_count, is_name
 
 def _begins_wrong(kind, part):
     """Whether a tuple does not begin with a word of its kind, or is not as long as this word tells."""
-    if not part or not isinstance(part[0], str) or part[0] not in WORDS[kind]:
+    if not part or part[0] not in WORDS[kind]:
         return True
     return len(part) != 1 + len(MEMBERS[part[0]])
 

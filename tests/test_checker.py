@@ -99,6 +99,15 @@ class FaultTest(LoomTest):
                 self.fails(BadDesign, attributes, check_design, module(f"{GOOD} {items}", REST))
                 self.fails(BadDesign, attributes, flat_of, module(f"{GOOD} {items}", REST))
 
+    def test_the_greatest_and_least_that_are_let_by(self):
+        for items in [
+            "wire x bits 64; x = bits(32, 0) # bits(32, 1);", "wire x bits 1; x = bits(1, 0 - 1000000000);",
+            "mem x[256] bits 64 [c] <- bits(64, 1) when c;", "mem x[1] bits 1 [a] <- c when c;",
+            "wire x bits 4; x = a{0:4};", "wire x bits 1; x = a{3:1};", "reg r bits 64 = 1000000000 <- r;",
+            "for i = 0 to 0 { wire x bits 0; }", "wire abcdefghijklmnop bits 4; abcdefghijklmnop = a;",
+        ]:
+            self.assertIsNone(fault_of(module(f"{GOOD} {items}", REST)), items)
+
     def test_two_at_once(self):
         dice = random.Random(1)
         for items, _, _ in FAULTS:

@@ -80,7 +80,7 @@ class CheckTest(LoomTest):
             self.fails(BadFlat, {"path": (2, 1, 3)}, check_flat, replaced(G, (2, 1, 3), number))
 
     def test_rows(self):
-        for row in [(), ("add",), ("name", 0), (["in"], 0), (1, 2), None, "in", ("on", 0), ("In", 0)]:
+        for row in [7, {0: "in", 1: 0}, (), ("add",), ("name", 0), (["in"], 0), (1, 2), None, "in", ("on", 0), ("In", 0)]:
             self.fails(BadFlat, {"path": (3, 6)}, check_flat, with_row(row))
         for row, k in [
             (("in", 2), 1), (("in", -1), 1), (("in", True), 1), (("reg", 2), 1), (("word", 0, 0), 1),
@@ -123,6 +123,15 @@ class CheckTest(LoomTest):
 
 
 class RowsTest(LoomTest):
+    def test_a_join_of_64_bits(self):
+        for width in (32, 33):
+            flat = ((("a", width), ("b", 32)), (), (), (("in", 0), ("in", 1), ("join", 0, 1)))
+            if width == 32:
+                self.assertIsNone(check_flat(flat))
+                self.assertEqual(widths_of(flat), [32, 32, 64])
+            else:
+                self.fails(BadFlat, {"path": (3, 2)}, check_flat, flat)
+
     def test_widths_of(self):
         self.assertEqual(self.is_new(widths_of, F), [1, 3, 2, 3, 3])
         self.assertEqual(widths_of(C_FLAT), [1, 8, 8, 8, 8])

@@ -1,0 +1,84 @@
+"""The interface: names, arguments, where each is defined; and what holds of all calls ([0.2])."""
+
+import copy
+import importlib
+import inspect
+import unittest
+
+from models import C, F, T
+from support import LoomTest
+
+INTERFACE = {
+    "names": "is_name(value) is_value(value,width)",
+    "trees": "check_tree(value) part_at(design,path) paths_of(design,word)",
+    "lexemes": "lexemes(text)",
+    "texts": "design_text(design) expression_text(expression) number_text(number) read_design(text) "
+             "read_expression(text) read_number(text)",
+    "numbers": "reckoned(number,values)",
+    "checker": "fault_of(design) check_design(design) judge_ring(design,value)",
+    "unrolling": "instances_of(design) things_of(design) flat_of(design)",
+    "flats": "check_flat(value) widths_of(flat) needed_rows(flat)",
+    "clocks": "row_values(flat,lot,state) start(flat) step(flat,lot,state) outputs(flat,lots) states(flat,lots) "
+              "run_from(flat,state,lots) for_ever(flat,lots) first_unlike(one,other,lots)",
+    "events": "comes_to(flat,standing,lot,state,number) uneasy(flat,standing,lot,state) "
+              "after_round(flat,standing,lot,state) rounds_of(flat,standing,lot,state) levels(flat) prices(flat) "
+              "settled(flat,standing,lot,state,picks) changes(flat,lots)",
+    "traces": "is_trace(value) trace_of(flat,lots) trace_text(trace) read_trace(text) value_in(trace,name,clock)",
+    "graphs": "check_graph(value) has_one_names(graph) many_nodes(graph) first_and(graph) depths(graph) depth(graph) "
+              "needed_nodes(graph) cut_graph(graph)",
+    "graphrun": "start_state(graph) node_values(graph,state,lot) step(graph,state,lot) graph_outputs(graph,lots)",
+    "values": "bits_of(width,value) value_of(bits) bit_lot(widths,values) value_lot(widths,bits)",
+}
+
+LOTS = [(1,), (0,), (1,)]
+STANDING = (0, 5, 3, 7, 1)
+
+# Calls that are passed lists, each of which may be a tuple instead.
+CALLS = [
+    ("trees", "part_at", C, [0, 0, 2]), ("clocks", "outputs", F, LOTS), ("clocks", "states", F, LOTS),
+    ("clocks", "run_from", F, (6,), LOTS), ("clocks", "for_ever", F, LOTS), ("clocks", "first_unlike", F, F, LOTS),
+    ("events", "settled", F, STANDING, (1,), (6,), [3, 1, 4]), ("events", "changes", F, LOTS),
+    ("traces", "trace_of", F, LOTS), ("graphrun", "graph_outputs", T, LOTS), ("values", "bit_lot", [1, 3], (1, 5)),
+    ("values", "value_lot", [1, 3], (1, 1, 0, 1)),
+]
+
+
+def function(file, name):
+    """A function of the interface."""
+    return getattr(importlib.import_module(f"bitloom.{file}"), name)
+
+
+class InterfaceTest(LoomTest):
+    def test_names_and_arguments(self):
+        for file, told in INTERFACE.items():
+            for one in told.split():
+                name, _, arguments = one.rstrip(")").partition("(")
+                call = function(file, name)
+                self.assertEqual(call.__module__, f"bitloom.{file}", one)
+                self.assertEqual(list(inspect.signature(call).parameters), arguments.split(","), one)
+
+    def test_lists_stay_as_they_are_and_may_be_tuples(self):
+        for file, name, *passed in CALLS:
+            call = function(file, name)
+            before = copy.deepcopy(passed)
+            told = self.is_new(call, *passed)
+            self.assertEqual(passed, before)
+            self.assertEqual(call(*[tuple(one) if isinstance(one, list) else one for one in passed]), told)
+
+    def test_what_is_judged_stays_as_it_is(self):
+        for file, name, *ahead in [
+            ("trees", "check_tree"), ("flats", "check_flat"), ("graphs", "check_graph"), ("traces", "is_trace"),
+            ("names", "is_name"), ("checker", "judge_ring", C),
+        ]:
+            value = [({"a": [1]}, ["b"]), [], {"c": {}}]
+            before = copy.deepcopy(value)
+            for judged in (value, tuple(value), (tuple(value), value)):
+                try:
+                    function(file, name)(*ahead, judged)
+                except ValueError:
+                    pass
+            self.assertEqual(value, before)
+
+
+if __name__ == "__main__":
+    unittest.main()
