@@ -26,7 +26,7 @@ def _is_ring(needs, value):
         if name not in needs or name in earlier:
             return False
         earlier[name] = True
-    return all(value[(k + 1) % len(value)] in needs[value[k]] for k in range(len(value)))
+    return all([value[(k + 1) % len(value)] in needs[value[k]] for k in range(len(value))])
 
 
 def judge_ring(design, value):

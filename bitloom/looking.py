@@ -168,7 +168,7 @@ def _look_at_use(instance, told):
         if width != port.width:
             raise BadDesign("unlike", instance.name, ports + (k, 1))
         port.plans.append(steps)
-    if any(port.kind == "in" and not port.plans for port in things.values()):
+    if any([port.kind == "in" and not port.plans for port in things.values()]):
         raise BadDesign("ports", instance.name, ports)
 
 

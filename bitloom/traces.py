@@ -26,7 +26,7 @@ def _is_clock(names, value):
     """Whether a value is a tuple of values of the widths of names."""
     if not isinstance(value, tuple) or len(value) != len(names):
         return False
-    return all(is_value(value[k], names[k][1]) for k in range(len(names)))
+    return all([is_value(value[k], names[k][1]) for k in range(len(names))])
 
 
 def is_trace(value):
