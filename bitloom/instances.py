@@ -1,6 +1,7 @@
 """The instances of a design, and what their items tell when they are unrolled."""
 
 from bitloom.errors import BadDesign
+from bitloom.laps import Laps
 from bitloom.names import is_width
 from bitloom.numbers import reckoned
 
@@ -36,6 +37,8 @@ class Instance:
         self.told = []
         self.things = {}
         self.depths = {}
+        # How many items and rounds were met in the design when a name was told first.
+        self.since = {}
 
     def prefix(self):
         """What stands ahead of the flat names of its things."""
@@ -69,6 +72,24 @@ class Unroller:
         self.met += 1
         if self.met > MOST_UNROLLED:
             raise BadDesign("great", where, path)
+
+    def begin_laps(self, instance, laps):
+        """Keep what was met and told ahead of the first one of some rounds."""
+        laps.begun = self.met
+        laps.told = len(instance.told)
+
+    def pass_laps(self, instance, laps, item):
+        """Count rounds that are all like the first one without unrolling them, where nothing else is met in them.
+
+        Rounds that tell something are passed only if there are too many of them: then some later one is "great".
+        """
+        many = self.met - laps.begun
+        by = min(laps.high - laps.low, (MOST_UNROLLED - self.met) // many)
+        tells = len(instance.told) > laps.told
+        if (tells and by == laps.high - laps.low) or not laps.is_steady(item, instance.since):
+            return
+        self.met += by * many
+        laps.low += by
 
 
 def number_in(number, values, where, path):
@@ -154,25 +175,30 @@ def _met_items(items, path, values, rounds):
     return [(item, path + (k,), values, rounds, None) for k, item in enumerate(items)][::-1]
 
 
-def _each_bounds(item, path, values, where):
-    """The pair of low and high of an each."""
+def _laps_of(item, path, values, where):
+    """The rounds of an each, none of which is begun."""
     low = number_in(item[2], values, where, path + (2,))
     if low < 0:
         raise BadDesign("number", where, path + (2,))
     high = number_in(item[3], values, where, path + (3,))
     if high < 0:
         raise BadDesign("number", where, path + (3,))
-    return low, high
+    return Laps(low, high)
 
 
 def _go_on(unroller, instance, todo, task):
-    """Go on with the rounds of an each, whose bounds are what is left of them."""
-    item, path, values, rounds, (low, high) = task
-    if low >= high:
+    """Go on with the rounds of an each."""
+    item, path, values, rounds, laps = task
+    if laps.done == 1 and laps.low < laps.high:
+        unroller.pass_laps(instance, laps, item)
+    if laps.low >= laps.high:
         return
+    if laps.begun is None:
+        unroller.begin_laps(instance, laps)
     unroller.meet(instance.name, path)
-    todo.append((item, path, values, rounds, (low + 1, high)))
-    todo.extend(_met_items(item[4], path + (4,), {**values, item[1]: low}, rounds + (low,)))
+    todo.append(task)
+    number = laps.next_number()
+    todo.extend(_met_items(item[4], path + (4,), {**values, item[1]: number}, rounds + (number,)))
 
 
 def _meet_item(unroller, instance, todo, task):
@@ -180,7 +206,7 @@ def _meet_item(unroller, instance, todo, task):
     item, path, values, rounds, _ = task
     unroller.meet(instance.name, path)
     if item[0] == "each":
-        todo.append((item, path, values, rounds, _each_bounds(item, path, values, instance.name)))
+        todo.append((item, path, values, rounds, _laps_of(item, path, values, instance.name)))
     elif item[0] == "when":
         branch = 2 if number_in(item[1], values, instance.name, path + (1,)) else 3
         todo.extend(_met_items(item[branch], path + (branch,), values, rounds))
@@ -188,11 +214,12 @@ def _meet_item(unroller, instance, todo, task):
         instance.told.append((item, path, values, None))
     else:
         _tell(instance, item, path, values, rounds)
+        instance.since.setdefault(item[1], unroller.met)
 
 
 def _unroll(unroller, instance):
     """Unroll the items of an instance."""
-    # A task has an item, its path, the values and the rounds around it, and of an each that is begun its bounds.
+    # A task has an item, its path, the values and the rounds around it, and of an each that is begun its laps.
     todo = _met_items(unroller.design[0][instance.place][2], (0, instance.place, 2), instance.sizes, ())
     while todo:
         task = todo.pop()
