@@ -16,7 +16,8 @@ def _all_below(graph, node):
     found = {}
     todo = [node]
     while todo:
-        for other in _nodes_below(graph, todo.pop()):
+        here = todo.pop()
+        for other in _nodes_below(graph, here):
             if other not in found:
                 found[other] = True
                 if other >= first:
@@ -34,7 +35,8 @@ def _nodes_above(graph, node, cut):
     met = {}
     todo = [node]
     while todo:
-        for other in _nodes_below(graph, todo.pop()):
+        here = todo.pop()
+        for other in _nodes_below(graph, here):
             if other in cut:
                 met[other] = True
             elif other < first:

@@ -22,7 +22,8 @@ class Lump:
         self.cut = None
         todo = [node]
         while todo:
-            for literal in self.ands[todo.pop() - self.first]:
+            here = todo.pop()
+            for literal in self.ands[here - self.first]:
                 inner = literal >> 1
                 if labels[inner] < self.label:
                     self.heads[inner] = True
@@ -134,6 +135,7 @@ class Labeller:
             return None
         told = {}
         for node in (one, other):
-            for inner in self.cuts[node] if self.labels[node] == greater else (node,):
+            part = self.cuts[node] if self.labels[node] == greater else (node,)
+            for inner in part:
                 told[inner] = True
         return tuple(sorted(told)) if len(told) <= self.k else None

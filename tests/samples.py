@@ -185,3 +185,43 @@ def changed_design(dice, design):
         return replaced(design, path, dice.choice([0, 1, 2, 3, 5, 30, 64, 65, 257, 2 * 10**9]))
     like = [other for _, also, other in parts if also == kind]
     return replaced(design, path, dice.choice(like))
+
+
+def random_named_graph(dice, many_ins, many_regs, many_ands, many_outs):
+    """A graph that has one name a thing; it has fewer and nodes where there are not so many pairs."""
+    first = 1 + many_ins + many_regs
+    pairs = []
+    for _ in range(4 * many_ands):
+        every = range(1, first + len(pairs))
+        if len(pairs) < many_ands and len(every) > 1:
+            one, other = sorted(dice.sample(every, 2))
+            pair = (2 * one + dice.randrange(2), 2 * other + dice.randrange(2))
+            if pair not in pairs:
+                pairs.append(pair)
+    every = 2 * (first + len(pairs))
+    regs = tuple((dice.randrange(2), dice.randrange(every)) for _ in range(many_regs))
+    return many_ins, regs, tuple(pairs), tuple(dice.randrange(every) for _ in range(many_outs))
+
+
+def random_net(dice, k, many_ins, many_regs, many_tables, many_outs):
+    """A table net."""
+    first = 1 + many_ins + many_regs
+    tables = []
+    for t in range(many_tables):
+        nodes = tuple(dice.sample(range(first + t), dice.randint(0, min(k, first + t))))
+        tables.append((nodes, dice.choice([0, dice.randrange(2 ** 2 ** len(nodes)), 2 ** 2 ** len(nodes) - 1])))
+    every = first + many_tables
+    regs = tuple((dice.randrange(2), dice.randrange(every)) for _ in range(many_regs))
+    return k, many_ins, regs, tuple(tables), tuple(dice.randrange(every) for _ in range(many_outs))
+
+
+def random_cells(dice, k, many, many_cells, many_outs):
+    """A cell net; it has no outs if it has no cells."""
+    used = [dice.randrange(2) for _ in range(many_cells)]
+    cells = []
+    for c in range(many_cells):
+        may_be = [s for s in range(many + many_cells) if used[c] or s < many + c or used[s - many]]
+        inputs = tuple(dice.sample(may_be, dice.randint(0, min(k, len(may_be)))))
+        cells.append((inputs, dice.randrange(2 ** 2 ** len(inputs)), used[c], dice.randrange(2)))
+    outs = [dice.randrange(many, many + many_cells) for _ in range(many_outs if many_cells else 0)]
+    return k, many, tuple(cells), tuple(outs)

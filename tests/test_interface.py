@@ -5,6 +5,7 @@ import importlib
 import inspect
 import unittest
 
+from graphmodels import CELLS_T, TABLES_G
 from models import C, F, T
 from support import LoomTest
 
@@ -28,6 +29,26 @@ INTERFACE = {
               "needed_nodes(graph) cut_graph(graph)",
     "graphrun": "start_state(graph) node_values(graph,state,lot) step(graph,state,lot) graph_outputs(graph,lots)",
     "values": "bits_of(width,value) value_of(bits) bit_lot(widths,values) value_lot(widths,bits)",
+    "blasting": "size_bound(flat) graph_of(flat) graph_by_rows(flat) in_widths(flat) out_widths(flat)",
+    "making": "and_of(graph,l,m) made_anew(graph,exchanges)",
+    "merging": "find_equals(graph) are_closed(graph,lots) merged(graph)",
+    "easing": "eased(graph) levelled(graph)",
+    "sources": "source_of(graph,literal) needed_ands(graph) still_registers(graph)",
+    "periods": "period(graph) least_period(graph) lags_for(graph,c) paper_against(graph,c) judge_lags(graph,c,value) "
+               "judge_paper(graph,c,value) least_shift(graph,c) early_lags(graph,c) shift_paper(graph,c,l) "
+               "judge_shift(graph,c,l,value)",
+    "moving": "moved(graph,lags) moved_least(graph)",
+    "nets": "check_net(value) run_net(net,lots) level_in(net,node) net_depth(net) tight(net) is_tight(net)",
+    "cuts": "is_cut(graph,node,value) cuts(graph,k,node) truth_by(graph,literal,nodes)",
+    "labels": "labels(graph,k) least_depth(graph,k) label_paper(graph,k) judge_labels(graph,k,value)",
+    "covers": "cover(graph,k) lean_cover(graph,k,depth) cover_depth(graph,value) judge_cover(graph,k,value)",
+    "mapping": "net_of(graph,k,cover) mapped(graph,k)",
+    "fabric": "check_fabric(value) neighbour(fabric,x,y,side) is_border(fabric,x,y) is_wire(fabric,value) "
+              "wire_in(fabric,x,y,side,track) all_wires(fabric) tiles_of(fabric) pads_of(fabric) "
+              "fabric_for(k,cells,signals,ins,outs)",
+    "cells": "check_cells(value) cells_of(net) wanted(cells) cell_outputs(cells,lots)",
+    "placing": "has_room(fabric,cells) place(fabric,cells) length(cells,placing) is_settled(fabric,cells,placing) "
+               "crossing(cells,placing,cut) crowded(fabric,cells,placing)",
 }
 
 LOTS = [(1,), (0,), (1,)]
@@ -39,7 +60,9 @@ CALLS = [
     ("clocks", "run_from", F, (6,), LOTS), ("clocks", "for_ever", F, LOTS), ("clocks", "first_unlike", F, F, LOTS),
     ("events", "settled", F, STANDING, (1,), (6,), [3, 1, 4]), ("events", "changes", F, LOTS),
     ("traces", "trace_of", F, LOTS), ("graphrun", "graph_outputs", T, LOTS), ("values", "bit_lot", [1, 3], (1, 5)),
-    ("values", "value_lot", [1, 3], (1, 1, 0, 1)),
+    ("values", "value_lot", [1, 3], (1, 1, 0, 1)), ("making", "made_anew", T, {2: 0}),
+    ("merging", "are_closed", T, [(0,), (4,)]), ("merging", "find_equals", T), ("cells", "cell_outputs", CELLS_T, LOTS),
+    ("nets", "run_net", (2, 1, ((0, 3),), (((1, 2), 6),), (2,)), LOTS),
 ]
 
 
@@ -68,7 +91,10 @@ class InterfaceTest(LoomTest):
     def test_what_is_judged_stays_as_it_is(self):
         for file, name, *ahead in [
             ("trees", "check_tree"), ("flats", "check_flat"), ("graphs", "check_graph"), ("traces", "is_trace"),
-            ("names", "is_name"), ("checker", "judge_ring", C),
+            ("names", "is_name"), ("checker", "judge_ring", C), ("periods", "judge_lags", T, 2),
+            ("periods", "judge_paper", T, 1), ("periods", "judge_shift", T, 1, 1), ("nets", "check_net"),
+            ("cuts", "is_cut", TABLES_G, 7), ("labels", "judge_labels", TABLES_G, 2), ("covers", "judge_cover", TABLES_G, 2),
+            ("fabric", "check_fabric"), ("fabric", "is_wire", (2, 2, 1, 2, 1)), ("cells", "check_cells"),
         ]:
             value = [({"a": [1]}, ["b"]), [], {"c": {}}]
             before = copy.deepcopy(value)
