@@ -69,7 +69,7 @@ def cells_of(net):
 def wanted(cells):
     """The ascending list of the wanted signals."""
     _, _, told, outs = cells
-    return sorted({signal: True for signal in [*outs, *[signal for cell in told for signal in cell[0]]]})
+    return sorted({signal: True for signal in [*outs, *[taken for cell in told for taken in cell[0]]]})
 
 
 def cell_outputs(cells, lots):

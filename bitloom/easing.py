@@ -105,7 +105,7 @@ def _chain_members(graph, node, inner):
 
 def _balanced(easer, literals):
     """The literal of the and of some literals, always the two least deep ones being taken."""
-    queue = [(easer.depths[literal >> 1], literal) for literal in list({literal: True for literal in literals})]
+    queue = [(easer.depths[literal >> 1], literal) for literal in list({told: True for told in literals})]
     heapify(queue)
     while len(queue) > 1:
         _, one = heappop(queue)

@@ -99,7 +99,7 @@ def level_in(net, node):
 def net_depth(net):
     """The depth of a net."""
     levels = _levels(net)
-    return max([levels[node] for node in [*net[4], *[node for _, node in net[2]]]], default=0)
+    return max([levels[node] for node in [*net[4], *[taken for _, taken in net[2]]]], default=0)
 
 
 def tight(net):

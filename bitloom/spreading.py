@@ -23,7 +23,7 @@ class Net:
 def nets_of(cells, ins, outs):
     """A dict from all wanted signals, ascending, to their nets, by the places of in pads and out pads."""
     _, many, told, taken = cells
-    ends = {signal: True for signal in [*taken, *[signal for cell in told for signal in cell[0]]]}
+    ends = {signal: True for signal in [*taken, *[each for cell in told for each in cell[0]]]}
     found = {signal: Net() for signal in sorted(ends)}
     for signal in found:
         net = found[signal]

@@ -16,7 +16,7 @@ def _needed_tables(net):
     """The ascending list of the numbers of the tables that outs and regs need."""
     _, many_ins, regs, tables, outs = net
     first = 1 + many_ins + len(regs)
-    needed = {node: True for node in [*outs, *[node for _, node in regs]]}
+    needed = {node: True for node in [*outs, *[taken for _, taken in regs]]}
     for node in reversed(range(first, first + len(tables))):
         if node in needed:
             for other in tables[node - first][0]:
