@@ -12,7 +12,7 @@ from bitloom.fabric import (
     all_wires, check_fabric, fabric_for, is_border, is_wire, neighbour, pads_of, tiles_of, wire_in,
 )
 
-FABRICS = [FABRIC_F, (1, 1, 1, 2, 1), (1, 3, 2, 3, 2), (3, 1, 1, 2, 1), (2, 2, 1, 2, 8), (3, 3, 2, 4, 2), (4, 5, 3, 6, 1)]
+FABRICS = [FABRIC_F, (1, 1, 1, 2, 1), (1, 3, 2, 3, 2), (3, 1, 1, 2, 1), (2, 2, 1, 2, 8), (3, 3, 2, 4, 2), (4, 5, 3, 6, 1), (7, 6, 1, 2, 1)]
 
 
 def beside(fabric, x, y):
@@ -68,8 +68,11 @@ class FabricTest(LoomTest):
         self.assertEqual(self.is_new(all_wires, FABRIC_F), [(0, 0, 0, 0), (1, 0, 2, 0)])
         for fabric in FABRICS:
             found = []
-            for wire in itertools.product(range(fabric[0]), range(fabric[1]), range(4), range(fabric[2])):
+            for wire in itertools.product(range(fabric[0]), range(fabric[1]), range(-2, 7), range(fabric[2])):
                 x, y, side, track = wire
+                if side not in range(4):
+                    self.assertIs(is_wire(fabric, wire), False)
+                    continue
                 tile = beside(fabric, x, y)[side]
                 self.assertIs(is_wire(fabric, wire), tile is not None)
                 # What leaves the neighbour to the opposite side comes in here.

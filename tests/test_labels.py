@@ -13,6 +13,12 @@ from bitloom.labels import judge_labels, label_paper, labels, least_depth
 
 # Two levels of tables of two inputs: node 8 is over 1 to 4, with 6 and 7 between.
 PAPER_2 = ((1, (1, 2), None), (1, (3, 4), None), (2, (5, 6), ((1,), (2,), (3,))))
+# Graphs in which, with three inputs, a node has a cut with lesser labels that those of its two nodes do not tell.
+HIDDEN = [
+    (4, (), ((6, 9), (3, 8), (5, 10), (10, 14), (13, 15), (11, 18), (6, 18), (12, 19), (2, 14), (17, 21)), (1,)),
+    (6, (), ((7, 8), (2, 14), (3, 5), (15, 17), (5, 21), (15, 21), (17, 18), (4, 17), (7, 15), (23, 26)), (10,)),
+    (6, ((1, 18),), ((12, 15), (5, 13), (5, 9), (13, 17), (13, 23), (17, 20), (2, 22), (15, 26), (23, 31), (10, 24)), (9,)),
+]
 
 
 def graphs(dice, many):
@@ -123,6 +129,39 @@ class LabelsTest(LoomTest):
                 changed = replaced(paper, (at, 2), tuple(others))
                 self.assertEqual(judge_labels(graph, k, changed), model_fault(graph, k, changed))
         self.assertLessEqual({"label", "cut", "ways"}, met)
+
+    def test_cuts_that_are_not_seen_at_once(self):
+        for graph in HIDDEN:
+            for k in range(2, 7):
+                paper = label_paper(graph, k)
+                self.assertEqual(labels(graph, k), tuple(model_labels(graph, k)[first_node(graph):]))
+                self.assertIsNone(model_fault(graph, k, paper))
+                self.assertIsNone(judge_labels(graph, k, paper))
+        dice = random.Random(4)
+        for many_ins, many in [(4, 30), (5, 40), (4, 60), (8, 120)]:
+            for _ in range(20):
+                graph = random_named_graph(dice, many_ins, 1, many, 1)
+                for k in range(3, 7):
+                    self.assertIsNone(judge_labels(graph, k, label_paper(graph, k)))
+
+    def test_changed_ways(self):
+        dice = random.Random(5)
+        met = {}
+        for _ in range(60):
+            graph = random_named_graph(dice, dice.randint(4, 7), dice.randint(0, 2), dice.randint(8, 20), 1)
+            k = dice.randint(2, 3)
+            paper = label_paper(graph, k)
+            every = range(first_node(graph) + len(paper))
+            for at, (_, _, ways) in enumerate(paper):
+                for j, way in enumerate(ways or ()):
+                    place = dice.randrange(len(way))
+                    for late in [way[1:], way[:-1], (*way, dice.choice(every)), (dice.choice(every), *way),
+                                 way[:place] + (dice.choice(every),) + way[place + 1:], way[:place] + way[place + 1:]]:
+                        changed = replaced(paper, (at, 2, j), late)
+                        fault = judge_labels(graph, k, changed)
+                        self.assertEqual(fault, model_fault(graph, k, changed))
+                        met[fault is None, len(way)] = True
+        self.assertLessEqual({(False, 1), (False, 2), (False, 3), (True, 1), (True, 2)}, set(met))
 
     def test_other_right_papers(self):
         # The ways may come to the lump elsewhere, and the cuts may have further nodes.

@@ -10,6 +10,7 @@ from models import T
 from samples import random_graph, replaced
 from support import LOOSE, LoomTest, deep
 
+from bitloom.graphs import check_graph
 from bitloom.periods import (
     early_lags, judge_lags, judge_paper, judge_shift, lags_for, least_period, least_shift, paper_against, period,
     shift_paper,
@@ -200,6 +201,27 @@ class PeriodsTest(LoomTest):
         self.assertIs(judge_paper(graph, 0, ("ring", ((3, 0), (3, 0), (3, 1)))), True)
         self.assertIs(judge_paper(graph, 1, ("ring", ((3, 0), (3, 0)))), False)
         self.assertIs(judge_paper(graph, 0, ("ring", ((3, 0),), 0)), False)
+
+    def test_papers_at_their_edges(self):
+        # Three and nodes on a way without registers, and with one ahead of the out: slopes 3 and 3 / 2.
+        straight = (3, (), ((2, 4), (6, 8), (5, 10)), (12,))
+        kept = (3, ((0, 14),), ((2, 4), (6, 10), (5, 12)), (8,))
+        for graph, edge in [(straight, 3), (kept, 2)]:
+            self.assertIsNone(check_graph(graph))
+            first = first_node(graph)
+            paper = ("way", ((first, 0), (first + 1, 1), (first + 2, 1)), 0)
+            for c in range(edge + 2):
+                self.assertIs(judge_paper(graph, c, paper), c < edge, c)
+                self.assertEqual(judge_paper(graph, c, paper), is_paper(graph, c, paper))
+            self.assertEqual(least_period(graph), edge)
+        self.assertIs(judge_paper(straight, 2, ("way", ((4, 0), (5, 1)), 0)), False)
+        # A ring of four and nodes and two registers: its slope is 2.
+        ring = (1, ((0, 14), (0, 10)), ((2, 4), (3, 8), (2, 6), (3, 12)), (10, 14))
+        for c in range(4):
+            self.assertIs(judge_paper(ring, c, ("ring", ((4, 1), (5, 1), (6, 1), (7, 1)))), c < 2, c)
+        # A shift paper with three and nodes: 3 is no more than 1 * (0 + 3), but more than 1 * (0 + 2).
+        for c, l, told in [(1, 2, True), (1, 3, False), (3, 1, False), (2, 1, True), (0, 50, True)]:
+            self.assertIs(judge_shift(straight, c, l, ((4, 0), (5, 1), (6, 1))), told)
 
     def test_nodes_that_are_not_needed_stand_in_no_paper(self):
         graph = (2, (), ((2, 4), (2, 5)), (6,))

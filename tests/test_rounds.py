@@ -58,12 +58,24 @@ class RoundsTest(LoomTest):
             ("for j = 0 to 9000 { for k = 0 to 3 { for j = 0 to j { } } }", None),
             ("for j = 0 to 50 { for k = 0 to 90 { wire w bits 1; } }", None),
             ("for j = 0 to 9000 { mem m[9000 - j] bits 1 [a] <- a when a; }", None), ("in a bits 1; a = a;", None),
+            # The round stands within further items.
+            ("for i = 0 to 9000 { for j = 0 to 1 { wire w bits 64 - i; } }", 64),
+            ("for i = 0 to 9000 { for j = 0 to 1 { for k = 0 to 1 { wire w bits 64 - i; } } }", 64),
+            ("for i = 0 to 9000 { when 1 { wire w bits 64 - i; } }", 64),
+            ("for i = 0 to 9000 { when 0 { } else { wire w bits 64 - i; } }", 64),
+            ("for i = 0 to 9000 { for j = 0 to 1 { for i = 0 to 1 { wire w bits 1 + i; } } }", 0),
+            # It stands in each number of an item.
+            ("for i = 0 to 9000 { reg r bits 64 - i = 0 <- r; }", 64), ("for i = 0 to 9000 { reg r bits 1 = 1 / (9 - i) <- r; }", 9),
+            ("for i = 0 to 9000 { mem m[1] bits 64 - i [a] <- a when a; }", 64),
+            ("for i = 0 to 9000 { mem m[9 - i] bits 1 [a] <- a when a; }", 9), ("for i = 0 to 9000 { for j = 9 - i to 0 { } }", 10),
+            ("for i = 0 to 9000 { for j = 0 to 99 - i { for k = 0 to 1 { } } }", None),
+            ("for i = 0 to 4999 { when i - 6000 { } }", None), ("for i = 0 to 9000 { for j = 0 to 1 / (9 - i) { } }", 9),
         ]:
             design = module(items)
             fault = fault_of(design)
             self.assertEqual(fault, model_fault(design), items)
             if told is not None:
-                self.assertIn(fault[0], ("number", "width", "double", "round", "great"))
+                self.assertIn(fault[0], ("number", "width", "many", "double", "round", "great"))
 
     def test_what_is_unrolled_stays_the_same(self):
         design = module("for i = 0 to 40 { for j = 0 to 40 { } wire w bits 1; when i == 0 { w[i] = bits(1, 1); } "
