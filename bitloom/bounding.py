@@ -20,7 +20,7 @@ class Latest:
         rounds = 0
         while self.paper is None and self.changed is not None:
             # A way that comes to no node twice goes through each register once at most.
-            if rounds > 1 + len(ways.graph[1]):
+            if rounds > 1 + len(ways.given[1]):
                 self.paper = self._paper_from([], self.changed)
             else:
                 self.changed = None

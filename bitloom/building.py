@@ -16,7 +16,7 @@ class Maker:
     def __init__(self, first):
         self.first = first
         self.ands = []
-        self.numbers = {}
+        self.number_of = {}
 
     def both(self, one, other):
         """The literal of the and of two literals."""
@@ -24,10 +24,10 @@ class Maker:
         if literal is not None:
             return literal
         pair = (one, other) if one < other else (other, one)
-        if pair not in self.numbers:
-            self.numbers[pair] = self.first + len(self.ands)
+        if pair not in self.number_of:
+            self.number_of[pair] = self.first + len(self.ands)
             self.ands.append(pair)
-        return 2 * self.numbers[pair]
+        return 2 * self.number_of[pair]
 
     def either(self, one, other):
         """The literal that is 1 if one of two literals is."""
@@ -59,13 +59,13 @@ class Maker:
         return level[0]
 
 
-def remade(graph, put, become):
-    """The list of what all literals 2 * n of a graph become, if put tells the and of two literals.
+def remade(graph, maker, become):
+    """The list of what all literals 2 * n of a graph become, where a maker tells the and of two literals.
 
     The list become tells it for all nodes that are no and nodes; it is changed and returned.
     """
     for one, other in graph[2]:
-        become.append(put(become[one >> 1] ^ one & 1, become[other >> 1] ^ other & 1))
+        become.append(maker.both(become[one >> 1] ^ one & 1, become[other >> 1] ^ other & 1))
     return become
 
 

@@ -20,7 +20,7 @@ class Easer:
         place = (literal >> 1) - self.maker.first
         return self.maker.ands[place] if place >= 0 else NOTHING
 
-    def put(self, one, other):
+    def both(self, one, other):
         """The literal of a thing that is the and of two literals."""
         # Each lesser pair has a member of a lesser node than the pair before, so this comes to an end.
         while True:
@@ -67,7 +67,7 @@ def eased(graph):
     """A graph that is eased by a given one."""
     first = first_and(graph)
     easer = Easer(first)
-    become = remade(graph, easer.put, [2 * node for node in range(first)])
+    become = remade(graph, easer, [2 * node for node in range(first)])
     return _with_needed_ands(graph_with(graph, easer.maker.ands, become))
 
 
@@ -110,7 +110,7 @@ def _balanced(easer, literals):
     while len(queue) > 1:
         _, one = heappop(queue)
         _, other = heappop(queue)
-        literal = easer.put(one, other)
+        literal = easer.both(one, other)
         heappush(queue, (easer.depths[literal >> 1], literal))
     return queue[0][1]
 

@@ -63,7 +63,7 @@ class Unroller:
     """A design whose items are unrolled: the places of its modules, and how much is unrolled."""
 
     def __init__(self, design):
-        self.design = design
+        self.tree = design
         self.places = {module[0]: k for k, module in enumerate(design[0])}
         self.met = 0
 
@@ -130,7 +130,7 @@ def _opened(unroller, use, where, around):
         raise BadDesign("module", where, path + (first,))
     place = unroller.places[name]
     sizes = _numbers_in(numbers, use.sizes, where, path + (first + 1,))
-    told = unroller.design[0][place][1]
+    told = unroller.tree[0][place][1]
     if len(sizes) != len(told):
         raise BadDesign("sizes", where, path + (first + 1,))
     if around > MOST_AROUND:
@@ -220,7 +220,7 @@ def _meet_item(unroller, instance, todo, task):
 def _unroll(unroller, instance):
     """Unroll the items of an instance."""
     # A task has an item, its path, the values and the rounds around it, and of an each that is begun its laps.
-    todo = _met_items(unroller.design[0][instance.place][2], (0, instance.place, 2), instance.sizes, ())
+    todo = _met_items(unroller.tree[0][instance.place][2], (0, instance.place, 2), instance.sizes, ())
     while todo:
         task = todo.pop()
         if task[4] is None:

@@ -12,7 +12,7 @@ class Leaner:
     """Some cuts of each and node of a graph, of which those are chosen that ask for few further tables."""
 
     def __init__(self, graph, k, labeller):
-        self.graph = graph
+        self.given = graph
         self.k = k
         self.first = first_and(graph)
         self.levels = list(labeller.labels)
@@ -26,7 +26,7 @@ class Leaner:
     def _uses(self):
         """The list of how often the nodes stand in literals."""
         found = [0 for _ in self.levels]
-        for literal in [*root_literals(self.graph), *[literal for pair in self.graph[2] for literal in pair]]:
+        for literal in [*root_literals(self.given), *[literal for pair in self.given[2] for literal in pair]]:
             found[literal >> 1] += 1
         return found
 
@@ -40,7 +40,7 @@ class Leaner:
 
     def _know(self, node, cut):
         """Find some cuts of the next and node, a given one among them, the least costly ones first."""
-        one, other = [literal >> 1 for literal in self.graph[2][node - self.first]]
+        one, other = [literal >> 1 for literal in self.given[2][node - self.first]]
         found = {cut: True}
         for part in self._ways_in(one):
             for rest in self._ways_in(other):
@@ -59,7 +59,7 @@ class Leaner:
 
     def cuts_within(self, depth):
         """A dict from and nodes to cuts by which covers have a depth of at most depth, at least the least one."""
-        limits = {literal >> 1: depth for literal in root_literals(self.graph)}
+        limits = {literal >> 1: depth for literal in root_literals(self.given)}
         chosen = {}
         for node in reversed(range(self.first, len(self.levels))):
             if node in limits:

@@ -21,12 +21,12 @@ class Look:
     def __init__(self, instance, sizes):
         self.instance = instance
         self.sizes = sizes
-        self.steps = []
+        self.walk = []
         self.widths = []
 
     def put(self, step, width):
         """Go on by a step that puts a value of a width."""
-        self.steps.append(step)
+        self.walk.append(step)
         self.widths.append(width)
 
 
@@ -123,7 +123,7 @@ def _look_at(instance, values, expression, path):
             _memory_of(look, part, at)
         todo.append((part, at, True))
         todo.extend([(part[k], at + (k,), False) for k in inner[::-1]])
-    return look.steps, look.widths[0]
+    return look.walk, look.widths[0]
 
 
 def _look_at_reg(instance, told):

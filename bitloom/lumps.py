@@ -86,7 +86,7 @@ class Lump:
                 self.above[place >> 1] = ahead >> 1
                 self.below[ahead >> 1] = place >> 1
 
-    def ways(self):
+    def ways_there(self):
         """The tuple of the ways, each from its in bit or register bit up to the lump."""
         found = []
         for node in sorted(self.above):
@@ -103,7 +103,7 @@ class Labeller:
     """The labels of all nodes of a graph with k, and for each and node a cut by which it has its label."""
 
     def __init__(self, graph, k):
-        self.graph = graph
+        self.given = graph
         self.k = k
         self.labels = [0 for _ in range(first_and(graph))]
         self.cuts = {}
@@ -112,7 +112,7 @@ class Labeller:
 
     def go_through(self):
         """Label all and nodes."""
-        for one, other in self.graph[2]:
+        for one, other in self.given[2]:
             self._label(one >> 1, other >> 1)
 
     def _label(self, one, other):
@@ -121,11 +121,11 @@ class Labeller:
         greater = max(self.labels[one], self.labels[other])
         cut = self._known_cut(one, other, greater)
         if cut is None and greater:
-            lump = Lump(self.graph, self.labels, node)
+            lump = Lump(self.given, self.labels, node)
             lump.widen(self.k)
             cut = lump.cut
             if cut is None:
-                self.ways[node] = lump.ways()
+                self.ways[node] = lump.ways_there()
         self.labels.append(greater + 1 if cut is None else greater)
         self.cuts[node] = cut or (min(one, other), max(one, other))
 

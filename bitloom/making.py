@@ -21,5 +21,5 @@ def made_anew(graph, exchanges):
     first = first_and(graph)
     maker = Maker(first)
     become = [exchanges.get(node, 2 * node) for node in range(first)]
-    remade(graph, maker.both, become)
+    remade(graph, maker, become)
     return graph_with(graph, maker.ands, become)

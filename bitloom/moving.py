@@ -21,17 +21,17 @@ class Shelf:
     """
 
     def __init__(self):
-        self.registers = []
-        self.numbers = {}
+        self.shelved = []
+        self.number_of = {}
 
     def put(self, edge, starts):
         """The number of the last one of the registers of an edge, which begin as told."""
         place = -1 - edge.source
         for bit in starts:
-            if (place, bit) not in self.numbers:
-                self.numbers[(place, bit)] = len(self.registers)
-                self.registers.append((bit, place))
-            place = self.numbers[(place, bit)]
+            if (place, bit) not in self.number_of:
+                self.number_of[(place, bit)] = len(self.shelved)
+                self.shelved.append((bit, place))
+            place = self.number_of[(place, bit)]
         return place
 
 
@@ -39,10 +39,10 @@ class Mover:
     """A graph whose registers are moved by right lags."""
 
     def __init__(self, graph, lags):
-        self.graph = graph
+        self.given = graph
         self.ways = Ways(graph)
         self.lags = Lags(self.ways, lags)
-        self.shift = max([0, *[self.lags.lag(node) for node in self.ways.needed]])
+        self.late_by = max([0, *[self.lags.lag(node) for node in self.ways.needed]])
         self.edges = {}
         for node in self.ways.needed:
             self.edges[node] = self._edges_to(graph[2][node - self.lags.first], self.lags.lag(node))
@@ -56,7 +56,7 @@ class Mover:
         """The list of the edges that bring some literals to a node with a lag."""
         found = []
         for literal in literals:
-            told = self.ways.reader.source(literal)
+            told = self.ways.reader.followed(literal)
             found.append(Edge(told, self.lags.left((told[0], len(told[2])), lag)))
         return found
 
@@ -71,19 +71,19 @@ class Mover:
             node = edge.source
             while node in self.ways.reader.still and node not in found:
                 found[node] = True
-                node = self.ways.reader.taken(node) >> 1
+                node = self.ways.reader.next_literal(node) >> 1
         return sorted(found)
 
     def _passed(self):
         """The list of the lists of the values of all nodes, clock by clock, that the new registers' starts ask for."""
         clocks = [-1 - self.lags.lag(edge.source) for edge in self._all_edges() if edge.many]
-        last = max([0 if self.rings else -1 - self.shift, *clocks])
-        noughts = tuple([0 for _ in range(self.graph[0])])
-        state = start_state(self.graph)
+        last = max([0 if self.rings else -1 - self.late_by, *clocks])
+        noughts = tuple([0 for _ in range(self.given[0])])
+        state = start_state(self.given)
         found = []
-        for _ in range(last + self.shift + 1):
-            values = node_values(self.graph, state, noughts)
-            state = tuple([values[literal >> 1] ^ literal & 1 for _, literal in self.graph[1]])
+        for _ in range(last + self.late_by + 1):
+            values = node_values(self.given, state, noughts)
+            state = tuple([values[literal >> 1] ^ literal & 1 for _, literal in self.given[1]])
             found.append(values)
         return found
 
@@ -93,10 +93,10 @@ class Mover:
         ahead = []
         turns = 0
         for node in edge.chain[::-1]:
-            bit, literal = self.graph[1][node - self.graph[0] - 1]
+            bit, literal = self.given[1][node - self.given[0] - 1]
             turns ^= literal & 1
             ahead.append(bit ^ turns)
-        first = self.shift - 1 - self.lags.lag(edge.source)
+        first = self.late_by - 1 - self.lags.lag(edge.source)
         found = []
         for place in range(first, first - edge.many, -1):
             found.append(self.history[place][edge.source] if place >= 0 else ahead[-1 - place])
@@ -108,7 +108,7 @@ class Mover:
 
     def _register_literal(self, place):
         """The literal of a register of the shelf."""
-        return 2 * (self.graph[0] + 1 + len(self.rings) + place)
+        return 2 * (self.given[0] + 1 + len(self.rings) + place)
 
     def _brought(self, edge, place):
         """The literal that an edge brings, place being the number of its last register."""
@@ -119,21 +119,21 @@ class Mover:
         """The list of the pairs of all registers."""
         found = []
         for node in self.rings:
-            literal = self.ways.reader.taken(node)
-            found.append((self.history[self.shift][node], self.become[literal >> 1] ^ literal & 1))
-        for bit, place in self.shelf.registers:
+            literal = self.ways.reader.next_literal(node)
+            found.append((self.history[self.late_by][node], self.become[literal >> 1] ^ literal & 1))
+        for bit, place in self.shelf.shelved:
             found.append((bit, self.become[-1 - place] if place < 0 else self._register_literal(place)))
         return found
 
     def moved(self):
         """The moved graph."""
-        many_ins = self.graph[0]
+        many_ins = self.given[0]
         places = {node: [self._placed(edge) for edge in self.edges[node]] for node in self.ways.needed}
         out_places = [self._placed(edge) for edge in self.out_edges]
         self.become = {node: 2 * node for node in range(many_ins + 1)}
         for k, node in enumerate(self.rings, start=many_ins + 1):
             self.become[node] = 2 * k
-        maker = Maker(many_ins + 1 + len(self.rings) + len(self.shelf.registers))
+        maker = Maker(many_ins + 1 + len(self.rings) + len(self.shelf.shelved))
         for node in self.lags.ordered():
             one, other = [self._brought(edge, place) for edge, place in zip(self.edges[node], places[node])]
             self.become[node] = maker.both(one, other)
@@ -144,7 +144,7 @@ class Mover:
 def moved(graph, lags):
     """The pair of the graph whose registers are moved by right lags, and of its shift."""
     mover = Mover(graph, lags)
-    return mover.moved(), mover.shift
+    return mover.moved(), mover.late_by
 
 
 def moved_least(graph):

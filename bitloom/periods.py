@@ -59,7 +59,7 @@ def judge_lags(graph, c, value):
     for number, edge in enumerate(ways.out_edges):
         if lags.left(edge, 0) < 0:
             return ("less out", number)
-    lengths = lags.lengths()
+    lengths = lags.stretches()
     for node in ways.needed:
         if lengths[node] > c:
             return ("long", node)

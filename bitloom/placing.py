@@ -102,7 +102,7 @@ def _crossing(cells, placing, nets, cut):
     for signal in nets:
         begin = ins[signal] if signal < many else tiles[signal - many]
         # Where the signal begins is on the side on which it does not end.
-        beyond = [spot for spot in nets[signal].places(tiles) if (spot[axis] >= at) != (way == 1)]
+        beyond = [spot for spot in nets[signal].spots(tiles) if (spot[axis] >= at) != (way == 1)]
         if (begin[axis] >= at) == (way == 1) and beyond:
             found.append(signal)
     return found

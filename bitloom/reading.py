@@ -48,7 +48,7 @@ class Reader:
             raise BadText(self.next_place())
         return rule.split()
 
-    def behind(self, place):
+    def cut_off(self, place):
         """Take away all parts that were made from a place on, and return their tuple."""
         parts = tuple(self.parts[place:])
         del self.parts[place:]
@@ -59,13 +59,13 @@ class Reader:
         if word == "begin":
             self.marks.append(len(self.parts))
         elif word == "tuple":
-            self.parts.append(self.behind(self.marks.pop()))
+            self.parts.append(self.cut_off(self.marks.pop()))
         elif word == "swap":
-            self.parts.extend(list(self.behind(len(self.parts) - 2))[::-1])
+            self.parts.extend(list(self.cut_off(len(self.parts) - 2))[::-1])
         elif word in ("2", "3"):
-            self.parts.append(self.behind(len(self.parts) - int(word)))
+            self.parts.append(self.cut_off(len(self.parts) - int(word)))
         else:
-            self.parts.append((word, *self.behind(len(self.parts) - len(MEMBERS[word]))))
+            self.parts.append((word, *self.cut_off(len(self.parts) - len(MEMBERS[word]))))
 
 
 def read_form(text, form):

@@ -7,7 +7,7 @@ class Frame:
     """A plan that is gone through: its steps, how many are done, the rows that they put, and whose plan it is."""
 
     def __init__(self, steps, name):
-        self.steps = steps
+        self.walk = steps
         self.done = 0
         self.heap = []
         self.name = name
@@ -21,7 +21,7 @@ class RowMaker:
         self.regs = regs
         self.rows = []
         self.widths = []
-        self.numbers = {}
+        self.number_of = {}
         # The numbers of the rows that stand for things, by flat names; of a memory that of its first value.
         self.standing = {}
         for k in range(len(ins)):
@@ -31,11 +31,11 @@ class RowMaker:
 
     def put(self, row):
         """The number of a row, which is put behind all others if it is not there."""
-        if row not in self.numbers:
-            self.numbers[row] = len(self.rows)
+        if row not in self.number_of:
+            self.number_of[row] = len(self.rows)
             self.widths.append(row_width(row, self.ins, self.regs, self.widths))
             self.rows.append(row)
-        return self.numbers[row]
+        return self.number_of[row]
 
     def put_equal(self, number, worth):
         """The number of the row that tells whether the row with a number is a value."""
@@ -76,13 +76,13 @@ class RowMaker:
         frames = [Frame(steps, None)]
         while True:
             frame = frames[-1]
-            if frame.done == len(frame.steps):
+            if frame.done == len(frame.walk):
                 frames.pop()
                 if not frames:
                     return frame.heap[0]
                 self.standing[frame.name] = frame.heap[0]
                 continue
-            step = frame.steps[frame.done]
+            step = frame.walk[frame.done]
             if step[0] == "thing" and step[1].name not in self.standing:
                 frames.append(Frame(step[1].plans[0], step[1].name))
             else:

@@ -7,30 +7,30 @@ class Reader:
     """A graph whose registers are read through."""
 
     def __init__(self, graph):
-        self.graph = graph
+        self.given = graph
         self.first = first_and(graph)
         self.still = {node: True for node in _ring_registers(graph)}
 
     def is_passed(self, node):
         """Whether a node is a register that is read through."""
-        return self.graph[0] < node < self.first and node not in self.still
+        return self.given[0] < node < self.first and node not in self.still
 
     def is_root(self, node):
         """Whether a node is a root."""
-        return node <= self.graph[0] or node in self.still
+        return node <= self.given[0] or node in self.still
 
-    def taken(self, node):
+    def next_literal(self, node):
         """The literal that a register takes."""
-        return self.graph[1][node - self.graph[0] - 1][1]
+        return self.given[1][node - self.given[0] - 1][1]
 
-    def source(self, literal):
+    def followed(self, literal):
         """The triple of the source of a literal, of 1 if it turns and 0 if not, and of its chain."""
         turns = literal & 1
         chain = []
         node = literal >> 1
         while self.is_passed(node):
             chain.append(node)
-            literal = self.taken(node)
+            literal = self.next_literal(node)
             turns ^= literal & 1
             node = literal >> 1
         return node, turns, tuple(chain)
@@ -57,7 +57,7 @@ def _ring_registers(graph):
 
 def source_of(graph, literal):
     """The triple (node, turns, chain) of a literal of a graph."""
-    return Reader(graph).source(literal)
+    return Reader(graph).followed(literal)
 
 
 def needed_ands(graph):

@@ -5,16 +5,16 @@ class Net:
     """A wanted signal: the cells that it comes from and goes to, and the tiles of its pads."""
 
     def __init__(self):
-        self.cells = {}
+        self.cell_numbers = {}
         self.pads = []
 
-    def places(self, tiles):
+    def spots(self, tiles):
         """The list of the tiles where the signal begins or ends, tiles telling those of all cells."""
-        return [*self.pads, *[tiles[c] for c in self.cells]]
+        return [*self.pads, *[tiles[c] for c in self.cell_numbers]]
 
     def length(self, tiles):
         """How far the tiles of the signal lie apart."""
-        places = self.places(tiles)
+        places = self.spots(tiles)
         columns = [x for x, _ in places]
         rows = [y for _, y in places]
         return max(columns) - min(columns) + max(rows) - min(rows)
@@ -30,11 +30,11 @@ def nets_of(cells, ins, outs):
         if signal < many:
             net.pads.append(ins[signal][:2])
         else:
-            net.cells[signal - many] = True
+            net.cell_numbers[signal - many] = True
     for c, cell in enumerate(told):
         for signal in cell[0]:
             net = found[signal]
-            net.cells[c] = True
+            net.cell_numbers[c] = True
     for signal, place in zip(taken, outs):
         net = found[signal]
         net.pads.append(place[:2])
@@ -50,7 +50,7 @@ class Spread:
         self.lengths = [net.length(self.tiles) for net in self.nets]
         self.nets_at = [[] for _ in tiles]
         for number, net in enumerate(self.nets):
-            for c in net.cells:
+            for c in net.cell_numbers:
                 self.nets_at[c].append(number)
 
     def _changed(self, moves):

@@ -28,7 +28,7 @@ class Tightener:
     """A net whose tables become fewer; those that are there still are told by their numbers, ascending."""
 
     def __init__(self, net):
-        self.net = net
+        self.given = net
         first = 1 + net[1] + len(net[2])
         self.tables = {node: net[3][node - first] for node in _needed_tables(net)}
         self.outs = list(net[4])
@@ -94,13 +94,13 @@ class Tightener:
     def _inner_of(self, node, places):
         """A table that may be put into one, or None."""
         for other in self.tables[node][0]:
-            if other in self.tables and places[other] == 1 and len(self._together(node, other)) <= self.net[0]:
+            if other in self.tables and places[other] == 1 and len(self._together(node, other)) <= self.given[0]:
                 return other
         return None
 
     def _told(self):
         """The net, its tables having numbers anew."""
-        k, many_ins, regs, _, _ = self.net
+        k, many_ins, regs, _, _ = self.given
         first = 1 + many_ins + len(regs)
         numbers = {node: node for node in range(first)}
         for node in self.tables:

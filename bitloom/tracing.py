@@ -29,18 +29,18 @@ class TraceLines:
     def __init__(self):
         self.stage = "begin"
         self.pairs = []
-        self.numbers = {}
+        self.number_of = {}
         self.clocks = []
         self.now = []
 
     def read_name(self, words):
         """Read a line of a name; return whether it may stand here."""
-        if len(words) != 3 or not is_signal_name(words[1]) or words[1] in self.numbers:
+        if len(words) != 3 or not is_signal_name(words[1]) or words[1] in self.number_of:
             return False
         width = numeral_worth(words[2])
         if not is_width(width):
             return False
-        self.numbers[words[1]] = len(self.pairs)
+        self.number_of[words[1]] = len(self.pairs)
         self.pairs.append((words[1], width))
         self.now.append(0)
         self.stage = "names"
@@ -53,7 +53,7 @@ class TraceLines:
         last = -1
         values = list(self.now)
         for k in range(1, len(words), 2):
-            number = self.numbers.get(words[k], -1)
+            number = self.number_of.get(words[k], -1)
             worth = numeral_worth(words[k + 1])
             if number <= last or worth == self.now[number] or not is_value(worth, self.pairs[number][1]):
                 return False

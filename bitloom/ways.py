@@ -9,7 +9,7 @@ class Ways:
     """The edges of a graph, each told by its source and by how many registers it has."""
 
     def __init__(self, graph):
-        self.graph = graph
+        self.given = graph
         self.reader = Reader(graph)
         self.needed = [node for node in needed_nodes(graph) if node >= self.reader.first]
         self.edges = {node: self._edges_of(graph[2][node - self.reader.first]) for node in self.needed}
@@ -17,7 +17,7 @@ class Ways:
 
     def _edges_of(self, literals):
         """The list of the edges that bring some literals."""
-        told = [self.reader.source(literal) for literal in literals]
+        told = [self.reader.followed(literal) for literal in literals]
         return [(source, len(chain)) for source, _, chain in told]
 
     def is_root(self, node):
@@ -64,7 +64,7 @@ class Lags:
                     todo.extend([(other, False) for other in self.straight_below(node)])
         return found
 
-    def lengths(self):
+    def stretches(self):
         """A dict from needed and nodes to how many there are at most on a way without registers to them."""
         found = {}
         for node in self.ordered():

@@ -319,9 +319,13 @@ def look_at_calls(file, own_methods):
             file.tell(node, "L7")
     for node in file.nodes(ast.Attribute):
         parent = file.parents[node]
-        if isinstance(node.ctx, ast.Load) and node.attr in METHODS:
-            if not (isinstance(parent, ast.Call) and parent.func is node):
-                file.tell(node, f"L25 {node.attr}")
+        is_called = isinstance(parent, ast.Call) and parent.func is node
+        is_key = isinstance(parent, ast.keyword) and parent.arg == "key" and node.attr not in METHODS
+        # Attributes have no names that methods of any class have, so each such name is a method's.
+        if isinstance(node.ctx, ast.Load) and node.attr in METHODS | own_methods and not is_called and not is_key:
+            file.tell(node, f"L25 {node.attr}")
+        if isinstance(node.ctx, ast.Store) and node.attr in own_methods and file.path.stem != "errors":
+            file.tell(node, f"L18 {node.attr}")
 
 
 def is_lazy(node):
@@ -407,9 +411,10 @@ def look_at_values(file):
                 if not isinstance(right, ast.Constant) or right.value not in (None, True, False):
                     file.tell(node, "L20")
     for node in file.nodes(ast.FormattedValue):
-        if node.format_spec is not None or node.conversion != -1:
+        spec = "{}" if node.format_spec is None else ast.unparse(node.format_spec)
+        if not re.fullmatch(r"\{\}|f'0\d\d?x'", spec) or node.conversion != -1:
             file.tell(node, "L7")
-        for part in ast.walk(node):
+        for part in ast.walk(node.value):
             if isinstance(part, ast.Constant) and isinstance(part.value, str):
                 file.tell(node, "L27")
 

@@ -8,6 +8,14 @@ from language import finds
 
 PACKAGE = pathlib.Path(__file__).resolve().parent.parent / "bitloom"
 
+METHOD = "class A:\n    def told(self, a):\n        return a\n\n\n"
+
+ALLOWED = [
+    METHOD + "def f(a):\n    return a.told(1)\n",
+    METHOD + "def f(a, b):\n    return sorted(a, key=b.told)\n",
+    "def f(a):\n    return f'{a:04x} {a} {len(a)}'\n",
+]
+
 BARRED = [
     ("L6", "import os\n"),
     ("L3", "K, M = 0, 1\n"),
@@ -25,8 +33,17 @@ BARRED = [
     ("L23", "def f(a):\n    return g(range(a))\n\n\ndef g(a):\n    return a\n"),
     ("L23", "def f(a):\n    for k in a:\n        a.append(k)\n"),
     ("L25", "def f(a):\n    return a.sort()\n"),
+    ("L25", "def f(a):\n    return g(a.append)\n\n\ndef g(a):\n    return a\n"),
+    ("L25", METHOD + "def f(a):\n    return g(a.told)\n\n\ndef g(a):\n    return a\n"),
+    ("L25", METHOD + "def f(a):\n    k = A().told\n    return k(a)\n"),
+    ("L25", METHOD + "def f(a):\n    return [a.told]\n"),
+    ("L25", METHOD + "def f(a, b):\n    return a(key=b)(b.told)\n"),
+    ("L25", "def f(a):\n    return sorted(a, key=a.index)\n"),
     ("L27", "def f(a):\n    return 2 ** a\n"),
+    ("L18", METHOD + "class B:\n    def __init__(self):\n        self.told = 1\n"),
     ("L27", "def f(a):\n    return '%' + a\n"),
+    ("L7", "def f(a):\n    return f'{a!a}'\n"),
+    ("L7", "def f(a):\n    return f'{a:.2f}'\n"),
 ]
 
 
@@ -40,13 +57,22 @@ class LanguageTest(unittest.TestCase):
         self.assertIn("__init__.py", names)
         self.assertLessEqual(len(names), 100)
 
+    def finds_in(self, text):
+        with tempfile.TemporaryDirectory() as folder:
+            path = pathlib.Path(folder) / "loom"
+            path.mkdir()
+            (path / "part.py").write_text(text, encoding="utf-8")
+            return finds(path)
+
     def test_what_is_barred_is_found(self):
         for rule, text in BARRED:
-            with self.subTest(text=text), tempfile.TemporaryDirectory() as folder:
-                path = pathlib.Path(folder) / "loom"
-                path.mkdir()
-                (path / "part.py").write_text(text, encoding="utf-8")
-                self.assertTrue(any(found.startswith(rule) or rule in found for _, _, found in finds(path)))
+            with self.subTest(text=text):
+                self.assertTrue(any(rule in found.split() for _, _, found in self.finds_in(text)))
+
+    def test_what_is_allowed_is_not_found(self):
+        for text in ALLOWED:
+            with self.subTest(text=text):
+                self.assertEqual(self.finds_in(text), [])
 
 
 if __name__ == "__main__":
