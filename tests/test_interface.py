@@ -5,7 +5,8 @@ import importlib
 import inspect
 import unittest
 
-from graphmodels import CELLS_T, TABLES_G
+from graphmodels import CELLS_T, FABRIC_F, TABLES_G
+from layermodels import CONFIG_C, LAID_T
 from models import C, F, T
 from support import LoomTest
 
@@ -49,6 +50,20 @@ INTERFACE = {
     "cells": "check_cells(value) cells_of(net) wanted(cells) cell_outputs(cells,lots)",
     "placing": "has_room(fabric,cells) place(fabric,cells) length(cells,placing) is_settled(fabric,cells,placing) "
                "crossing(cells,placing,cut) crowded(fabric,cells,placing)",
+    "laid": "check_laid(fabric,cells,value) carried(fabric,cells,laid) laid_outputs(fabric,cells,laid,lots)",
+    "laying": "lay(fabric,cells) lay_placed(fabric,cells,placing)",
+    "timing": "table_times(fabric,cells,laid) delay(fabric,cells,laid) longest_way(fabric,cells,laid) "
+              "timed_outputs(fabric,cells,laid,lots,period)",
+    "configs": "menu_of_input(fabric,x,y) menu_of_wire(fabric,x,y,side,track) menu_of_out(fabric,x,y) check_config(value) "
+               "empty_config(fabric) ring_of(config) judge_ring(config,value) config_of(fabric,cells,laid)",
+    "bits": "config_bits(config) bits_config(bits) bits_text(bits) read_bits(text) check_of(digits)",
+    "machine": "run(config,lots) read_back(bits)",
+}
+
+# The classes: what they are made with, and their methods.
+CLASSES = {
+    ("machine", "Machine"): ("config", "config() registers() step(lot) restart() twin()"),
+    ("loader", "Loader"): ("", "take(row) numbers() missing() is_whole() drop() switch() step(lot) machine()"),
 }
 
 LOTS = [(1,), (0,), (1,)]
@@ -63,6 +78,8 @@ CALLS = [
     ("values", "value_lot", [1, 3], (1, 1, 0, 1)), ("making", "made_anew", T, {2: 0}),
     ("merging", "are_closed", T, [(0,), (4,)]), ("merging", "find_equals", T), ("cells", "cell_outputs", CELLS_T, LOTS),
     ("nets", "run_net", (2, 1, ((0, 3),), (((1, 2), 6),), (2,)), LOTS),
+    ("laid", "laid_outputs", FABRIC_F, CELLS_T, LAID_T, LOTS), ("timing", "timed_outputs", FABRIC_F, CELLS_T, LAID_T, LOTS, 4),
+    ("machine", "run", CONFIG_C, [(0, 1), (1, 1)]),
 ]
 
 
@@ -80,6 +97,18 @@ class InterfaceTest(LoomTest):
                 self.assertEqual(call.__module__, f"bitloom.{file}", one)
                 self.assertEqual(list(inspect.signature(call).parameters), arguments.split(","), one)
 
+    def test_classes_and_their_methods(self):
+        for (file, name), (arguments, methods) in CLASSES.items():
+            kind = function(file, name)
+            self.assertEqual(kind.__module__, f"bitloom.{file}")
+            self.assertEqual(list(inspect.signature(kind).parameters), arguments.split())
+            for one in methods.split():
+                method, _, passed = one.rstrip(")").partition("(")
+                # Each stands in the class itself.
+                self.assertIn(method, vars(kind))
+                parameters = list(inspect.signature(getattr(kind, method)).parameters)
+                self.assertEqual(parameters[1:], passed.split(",") if passed else [], one)
+
     def test_lists_stay_as_they_are_and_may_be_tuples(self):
         for file, name, *passed in CALLS:
             call = function(file, name)
@@ -95,6 +124,7 @@ class InterfaceTest(LoomTest):
             ("periods", "judge_paper", T, 1), ("periods", "judge_shift", T, 1, 1), ("nets", "check_net"),
             ("cuts", "is_cut", TABLES_G, 7), ("labels", "judge_labels", TABLES_G, 2), ("covers", "judge_cover", TABLES_G, 2),
             ("fabric", "check_fabric"), ("fabric", "is_wire", (2, 2, 1, 2, 1)), ("cells", "check_cells"),
+            ("laid", "check_laid", FABRIC_F, CELLS_T), ("configs", "check_config"), ("configs", "judge_ring", CONFIG_C),
         ]:
             value = [({"a": [1]}, ["b"]), [], {"c": {}}]
             before = copy.deepcopy(value)
