@@ -2,7 +2,7 @@
 
 from bitloom.errors import BadText
 from bitloom.forms import MEMBERS
-from bitloom.grammar import RULES
+from bitloom.grammar import LINES, RULES
 from bitloom.lexemes import scanned
 
 
@@ -11,6 +11,7 @@ class Reader:
 
     def __init__(self, text):
         self.lexemes, self.stop = scanned(text)
+        self.end_place = len(text)
         self.taken = 0
         self.parts = []
         self.marks = []
@@ -20,6 +21,10 @@ class Reader:
         if self.taken < len(self.lexemes):
             return self.lexemes[self.taken][2]
         return self.stop
+
+    def next_word(self):
+        """The next lexeme, "" if there is none."""
+        return self.lexemes[self.taken][1] if self.taken < len(self.lexemes) else ""
 
     def head(self):
         """What rules go by: the next lexeme, or its sort if it is a name or numeral; "" if there is none."""
@@ -68,9 +73,8 @@ class Reader:
             self.parts.append((word, *self.cut_off(len(self.parts) - len(MEMBERS[word]))))
 
 
-def read_form(text, form):
-    """What a text of a form tells; raise BadText with its first wrong place if it is of no such form."""
-    reader = Reader(text)
+def _go_through(reader, form):
+    """Read a whole text of a form; raise BadText with its first wrong place if it is of no such form."""
     # Forms that are begun wait in a list of their own, so that they may stand in one another as deep as may be.
     todo = [form]
     while todo:
@@ -81,6 +85,23 @@ def read_form(text, form):
             todo.extend(reader.follow(symbol)[::-1])
         else:
             reader.take(symbol)
-    if reader.next_place() < len(text):
+    if reader.next_place() < reader.end_place:
         raise BadText(reader.next_place())
+
+
+def read_form(text, form):
+    """What a text of a form tells; raise BadText with its first wrong place if it is of no such form."""
+    reader = Reader(text)
+    _go_through(reader, form)
     return reader.parts[0]
+
+
+def read_line(text):
+    """The list of the word with which a line of a console begins, and of what it tells; raise BadText likewise."""
+    reader = Reader(text)
+    word = reader.next_word()
+    if word not in LINES:
+        raise BadText(reader.next_place())
+    _go_through(reader, LINES[word])
+    # Keywords are no parts, so the word is put ahead of them once, whatever it is.
+    return [word, *[part for place, part in enumerate(reader.parts) if place or part != word]]
