@@ -107,6 +107,13 @@ E10 = E11 | E10 ! E11
 E11 = E12 | ~ E11 | & E11 | or E11 | ^ E11
 E12 = E13 | E12 { N1 : N1 }
 E13 = PLACE | PLACE . NAME | PLACE @ E13 | bits ( N1 , N1 ) | ( E0 )
+LINE = put MODULE ; | drop NAME ; | top NAME ; | top NAME size NUMERAL VALUES ; | steps WORDS ; | undo ; | redo ; | fault ;
+LINE = fabric NUMERAL NUMERAL NUMERAL NUMERAL NUMERAL ; | depth ; | shift ; | work ; | rows ; | row NUMERAL ; | run ;
+LINE = run LOT LOTS ;
+VALUES = | , NUMERAL VALUES
+WORDS = | NAME WORDS
+LOTS = | ; LOT LOTS
+LOT = - | NUMERAL VALUES
 """
 
 
@@ -159,7 +166,7 @@ def _closed(sets, items):
 
 
 def model_wrong_place(text, form):
-    """The first wrong place of a text of a form (DESIGN, E0 or N1), or None."""
+    """The first wrong place of a text of a form (DESIGN, E0, N1 or LINE), or None."""
     lexemes, wrong = model_lexemes(text)
     sets = []
     _closed(sets, [("START", (form,), 0, 0)])
@@ -168,7 +175,7 @@ def model_wrong_place(text, form):
         items = [
             (head, way, dot + 1, origin)
             for head, way, dot, origin in sets[-1]
-            if dot < len(way) and way[dot] == symbol
+            if dot < len(way) and way[dot] in (symbol, lexeme)
         ]
         if not items:
             return place

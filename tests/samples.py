@@ -225,3 +225,67 @@ def random_cells(dice, k, many, many_cells, many_outs):
         cells.append((inputs, dice.randrange(2 ** 2 ** len(inputs)), used[c], dice.randrange(2)))
     outs = [dice.randrange(many, many + many_cells) for _ in range(many_outs if many_cells else 0)]
     return k, many, tuple(cells), tuple(outs)
+
+
+def design_of(flat):
+    """A design of one module that has a wire for each row of a flat design."""
+    ins, outs, regs, rows = flat
+    widths = _row_widths(flat)
+
+    def named(k):
+        return ("name", f"w{k}")
+
+    def told(row):
+        word, *parts = row
+        if word == "in":
+            return ("name", ins[parts[0]][0])
+        if word == "reg":
+            return ("name", regs[parts[0]][0])
+        if word == "word":
+            return ("word", ("number", parts[0]), ("number", parts[1]))
+        if word == "cut":
+            return ("cut", named(parts[0]), ("number", parts[1]), ("number", parts[2]))
+        return (word, *[named(k) for k in parts])
+
+    items = [("in", name, ("number", width)) for name, width in ins]
+    items += [("out", name, ("number", widths[k])) for name, k in outs]
+    items += [("wire", f"w{k}", ("number", width)) for k, width in enumerate(widths)]
+    items += [("reg", name, ("number", width), ("number", start), named(k)) for name, width, start, k in regs]
+    items += [("drive", named(k), told(row)) for k, row in enumerate(rows)]
+    items += [("drive", ("name", name), named(k)) for name, k in outs]
+    return ((("main", (), tuple(items)),), ("main", ()))
+
+
+def _row_widths(flat):
+    """The widths of the rows of a flat design."""
+    ins, _, regs, rows = flat
+    widths = []
+    for word, *parts in rows:
+        if word in ("in", "reg"):
+            widths.append((ins if word == "in" else regs)[parts[0]][1])
+        elif word in ("word", "cut"):
+            widths.append(parts[0] if word == "word" else parts[2])
+        elif word == "join":
+            widths.append(widths[parts[0]] + widths[parts[1]])
+        elif word in ("all", "any", "odd", "eq", "lt", "pick"):
+            widths.append(1)
+        else:
+            widths.append(widths[parts[1 if word == "mux" else 0]])
+    return widths
+
+
+def small_flats(seed, many, most):
+    """Many flat designs by chance whose graphs have a few and nodes, and not many ins and outs."""
+    from bitloom.blasting import size_bound
+
+    dice = random.Random(seed)
+    found = []
+    while len(found) < many:
+        flat = random_flat(dice, dice.randint(4, 14))
+        widths = _row_widths(flat)
+        pads = max(sum(width for _, width in flat[0]), sum(widths[k] for _, k in flat[1]))
+        # Numbers in designs are not above 10 ** 9.
+        is_told = all(row[2] <= 10**9 for row in flat[3] if row[0] == "word")
+        if size_bound(flat) <= most and pads <= 24 and is_told and len(flat[0]) + len(flat[2]) > 0:
+            found.append(flat)
+    return found

@@ -5,6 +5,7 @@ import importlib
 import inspect
 import unittest
 
+from clausemodels import HOLDING_G, Q
 from graphmodels import CELLS_T, FABRIC_F, TABLES_G
 from layermodels import CONFIG_C, LAID_T
 from models import C, F, T
@@ -58,12 +59,22 @@ INTERFACE = {
                "empty_config(fabric) ring_of(config) judge_ring(config,value) config_of(fabric,cells,laid)",
     "bits": "config_bits(config) bits_config(bits) bits_text(bits) read_bits(text) check_of(digits)",
     "machine": "run(config,lots) read_back(bits)",
+    "clauses": "is_clause(value) check_clauses(value) spread(clauses,literals) follows(clauses,clause) keeps(clauses,literals)",
+    "solving": "solve(clauses) judge_barring(clauses,value)",
+    "clauseforms": "literal_of(literal) clauses_of(graph) unrolled(graph,clocks) starting(graph) parting(one,other) joint(one,other) "
+                   "first_clauses(graph,pairs) step_clauses(graph,pairs) first_holds(graph,out,k) step_holds(graph,out,k)",
+    "alike": "alike_step(one,other) judge_step(one,other,value) alike_ever(one,other) judge_ever(one,other,value)",
+    "properties": "holds(graph,out) judge_holds(graph,out,value)",
+    "chain": "stepped(graph,steps) made(design,steps,fabric) graph_room(graph) flat_room(flat) is_enough(fabric,room)",
 }
 
 # The classes: what they are made with, and their methods.
 CLASSES = {
     ("machine", "Machine"): ("config", "config() registers() step(lot) restart() twin()"),
     ("loader", "Loader"): ("", "take(row) numbers() missing() is_whole() drop() switch() step(lot) machine()"),
+    ("desk", "Desk"): ("", "modules() top() steps() fabric() design() act_word(act) do(act) undo() redo() acts() fault() flat() graph() "
+                           "shift() net() cells() laid() bits() work() machine() outputs(lots) twin()"),
+    ("console", "Console"): ("desk", "answer(line)"),
 }
 
 LOTS = [(1,), (0,), (1,)]
@@ -79,7 +90,12 @@ CALLS = [
     ("merging", "are_closed", T, [(0,), (4,)]), ("merging", "find_equals", T), ("cells", "cell_outputs", CELLS_T, LOTS),
     ("nets", "run_net", (2, 1, ((0, 3),), (((1, 2), 6),), (2,)), LOTS),
     ("laid", "laid_outputs", FABRIC_F, CELLS_T, LAID_T, LOTS), ("timing", "timed_outputs", FABRIC_F, CELLS_T, LAID_T, LOTS, 4),
-    ("machine", "run", CONFIG_C, [(0, 1), (1, 1)]),
+    ("machine", "run", CONFIG_C, [(0, 1), (1, 1)]), ("clauses", "spread", Q, [-2, 3]), ("clauses", "follows", Q, (2,)),
+    ("clauses", "keeps", Q, (1, 2)), ("solving", "solve", Q), ("solving", "solve", Q[:3]), ("solving", "judge_barring", Q, [(2,), ()]),
+    ("clauseforms", "first_clauses", T, [(2, 4), (5, 4)]), ("clauseforms", "step_clauses", T, [(2, 4), (5, 4)]),
+    ("alike", "judge_ever", HOLDING_G, HOLDING_G, ("alike", ("states", [(0, 0)]))),
+    ("alike", "judge_step", HOLDING_G, HOLDING_G, ("alike", [(-7,), (3,), (4,), ()])),
+    ("properties", "judge_holds", HOLDING_G, 0, ("holds", ("steps", 1, [()], [()]))), ("alike", "alike_ever", HOLDING_G, HOLDING_G),
 ]
 
 
@@ -125,6 +141,8 @@ class InterfaceTest(LoomTest):
             ("cuts", "is_cut", TABLES_G, 7), ("labels", "judge_labels", TABLES_G, 2), ("covers", "judge_cover", TABLES_G, 2),
             ("fabric", "check_fabric"), ("fabric", "is_wire", (2, 2, 1, 2, 1)), ("cells", "check_cells"),
             ("laid", "check_laid", FABRIC_F, CELLS_T), ("configs", "check_config"), ("configs", "judge_ring", CONFIG_C),
+            ("clauses", "is_clause"), ("clauses", "check_clauses"), ("solving", "judge_barring", Q), ("alike", "judge_step", T, T),
+            ("alike", "judge_ever", T, T), ("properties", "judge_holds", T, 0),
         ]:
             value = [({"a": [1]}, ["b"]), [], {"c": {}}]
             before = copy.deepcopy(value)
