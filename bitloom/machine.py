@@ -24,7 +24,7 @@ def _sources_of_wires(config):
 class Plan:
     """What the cells and out bits of a still config take: numbers of values, of which the first one is 0.
 
-    Behind it stand the in bits, and then the outputs of the cells that are not constant, tile by tile.
+    Behind it stand the in bits, and then the outputs of all cells, tile by tile.
     """
 
     def __init__(self, config):

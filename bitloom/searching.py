@@ -68,38 +68,35 @@ class Search:
             self._hold(literals[0], number)
         return None
 
-    def _moves_on(self, number, false):
-        """Let a clause wait for another literal than its second one, which is false; return whether there is one."""
-        clause = self.active[number]
-        for place in range(2, len(clause)):
-            other = clause[place]
-            if self.truths[other] >= 0:
-                clause[1], clause[place] = other, false
-                self.waiting[other].append(number)
-                return True
-        return False
-
     def _spread_from(self, false):
         """Let the clauses go on that waited for a literal; return the number of one that clashes, or None."""
-        numbers = self.waiting[false]
+        truths, active, waiting = self.truths, self.active, self.waiting
+        numbers = waiting[false]
         kept = []
-        self.waiting[false] = kept
+        waiting[false] = kept
         clash = None
-        truths = self.truths
         for number in numbers:
-            clause = self.active[number]
-            if clause and clause[0] == false:
+            clause = active[number]
+            if not clause:
+                continue
+            if clause[0] == false:
                 clause[0], clause[1] = clause[1], false
-            if clash is not None or clause and truths[clause[0]] > 0:
+            first = clause[0]
+            if clash is not None or truths[first] > 0:
                 kept.append(number)
                 continue
-            if not clause or self._moves_on(number, false):
-                continue
-            kept.append(number)
-            if truths[clause[0]] == 0:
-                self._hold(clause[0], number)
+            for place in range(2, len(clause)):
+                other = clause[place]
+                if truths[other] >= 0:
+                    clause[1], clause[place] = other, false
+                    waiting[other].append(number)
+                    break
             else:
-                clash = number
+                kept.append(number)
+                if truths[first] == 0:
+                    self._hold(first, number)
+                else:
+                    clash = number
         return clash
 
     def spread(self):
