@@ -80,13 +80,20 @@ def rows_for(many):
     return -(-many // ROW_BITS)
 
 
+def _length_of(many, number):
+    """How many bits a row with a number has, of so many bits in all."""
+    return min(ROW_BITS, many - (number - 1) * ROW_BITS)
+
+
+def is_middle(middle, many, number):
+    """Whether digits may stand in the middle of a row with a number, of so many bits in all."""
+    length = _length_of(many, number)
+    fills = -length % 4
+    return len(middle) == (length + fills) // 4 and worth_of(middle[-1]) & (1 << fills) - 1 == 0
+
+
 def bits_in(middle, many, number):
-    """The tuple of the bits of a row with a number, of so many bits in all, None if its middle can't be so."""
-    length = min(ROW_BITS, many - (number - 1) * ROW_BITS)
-    if len(middle) != -(-length // 4):
-        return None
+    """The tuple of the bits of a row with a number, of so many bits in all."""
     worth = worth_of(middle)
-    fills = 4 * len(middle) - length
-    if worth & (1 << fills) - 1:
-        return None
-    return tuple([worth >> place & 1 for place in range(fills + length - 1, fills - 1, -1)])
+    last = 4 * len(middle) - 1
+    return tuple([worth >> place & 1 for place in range(last, last - _length_of(many, number), -1)])

@@ -2,7 +2,7 @@
 
 from bitloom.bitrows import (
     MIDDLE, NUMBER_DIGITS, ROW_BITS, bits_in, check_place, count_told, digits_of, form_fault, has_right_check,
-    middle_of, row_check, row_text, rows_for,
+    is_middle, middle_of, row_check, row_text, rows_for,
 )
 from bitloom.bitstream import BitReader, BitWriter
 from bitloom.errors import BadText
@@ -121,7 +121,8 @@ def _place_in_row(number, row, many):
     if row[:NUMBER_DIGITS] != f"{number:04x}" or number > rows_for(many):
         return 0
     middle = middle_of(row)
-    if (count_told(middle) if number == 0 else bits_in(middle, many, number)) is None:
+    is_right = count_told(middle) is not None if number == 0 else is_middle(middle, many, number)
+    if not is_right:
         return MIDDLE
     return None if has_right_check(row) else check_place(row)
 

@@ -1,7 +1,8 @@
 """Loaders, which get rows of texts while a machine runs."""
 
 from bitloom.bitrows import (
-    MIDDLE, NUMBER_DIGITS, bits_in, check_place, count_told, form_fault, has_right_check, middle_of, rows_for, worth_of,
+    MIDDLE, NUMBER_DIGITS, bits_in, check_place, count_told, form_fault, has_right_check, is_middle, middle_of,
+    rows_for, worth_of,
 )
 from bitloom.errors import BadBits, BadText, NoMachine, NotStill, NotWhole
 from bitloom.machine import read_back
@@ -39,7 +40,7 @@ class Loader:
         many = count_told(self.bench[0])
         found = []
         for number in range(1, 1 + rows_for(many)):
-            if number not in self.bench or bits_in(self.bench[number], many, number) is None:
+            if number not in self.bench or not is_middle(self.bench[number], many, number):
                 found.append(number)
         return found
 

@@ -143,7 +143,9 @@ def route(fabric, routes):
         for track, signal in enumerate(routes.wants):
             router.bring_on(signal, track)
         return
-    queue = [signal for _, signal in sorted([(-len(tiles), signal) for signal, tiles in routes.wants.items()])]
+    # Those that are wanted at many tiles go ahead.
+    wanted_by = sorted([(-len(tiles), other) for other, tiles in routes.wants.items()])
+    queue = [other for _, other in wanted_by]
     patience = 100 + 4 * len(queue)
     while queue:
         signal = queue.pop(0)

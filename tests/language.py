@@ -455,6 +455,50 @@ def look_at_counts(file, modules):
                 file.tell(node, "L22")
 
 
+def look_at_class_calls(file, classes):
+    """Calls of own classes and methods pass what these take (L22); stars stand in no calls, and del takes no attributes."""
+    made, taken = {}, {}
+    for node in classes:
+        made.setdefault(node.name, [])
+        for part in node.body:
+            if isinstance(part, ast.FunctionDef):
+                many = len(part.args.args) - 1
+                told = range(many - len(part.args.defaults), many + 1)
+                (made if part.name == "__init__" else taken).setdefault(
+                    node.name if part.name == "__init__" else part.name, []
+                ).append(told)
+    for node in file.nodes(ast.Call):
+        many = len(node.args) + len(node.keywords)
+        if any(isinstance(part, ast.Starred) for part in node.args):
+            file.tell(node, "L7")
+        elif isinstance(node.func, ast.Name) and made.get(node.func.id):
+            if not any(many in told for told in made[node.func.id]):
+                file.tell(node, "L22")
+        elif isinstance(node.func, ast.Attribute) and node.func.attr in taken and node.func.attr not in METHODS:
+            if not any(many in told for told in taken[node.func.attr]):
+                file.tell(node, "L22")
+    for node in file.nodes(ast.Delete):
+        if not all(isinstance(target, (ast.Subscript, ast.Name)) for target in node.targets):
+            file.tell(node, "L6")
+
+
+def comprehension_names(node):
+    """The names that a comprehension assigns."""
+    targets = [part for generator in node.generators for part in ast.walk(generator.target)]
+    return {part.id for part in targets if isinstance(part, ast.Name)} - {"_"}
+
+
+def look_at_comprehensions(file):
+    """An inner comprehension goes over names of its own (L7)."""
+    kinds = (ast.ListComp, ast.DictComp, ast.GeneratorExp)
+    for node in file.nodes(*kinds):
+        outer = file.parents.get(node)
+        while outer is not None and not isinstance(outer, (ast.FunctionDef, ast.Module)):
+            if isinstance(outer, kinds) and comprehension_names(node) & comprehension_names(outer):
+                file.tell(node, "L7")
+            outer = file.parents.get(outer)
+
+
 def look_for_circles(modules):
     """The pairs of modules that import from each other, also through others (L16)."""
     imports = {
@@ -502,6 +546,8 @@ def finds(folder):
         look_at_values(file)
         look_at_lines(file)
         look_at_counts(file, modules)
+        look_at_class_calls(file, classes)
+        look_at_comprehensions(file)
         for node in file.nodes(ast.Attribute):
             if isinstance(node.ctx, ast.Load) and node.attr not in stored | methods | METHODS:
                 file.tell(node, f"L18 {node.attr}")

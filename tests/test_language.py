@@ -43,6 +43,11 @@ BARRED = [
     ("L18", METHOD + "class B:\n    def __init__(self):\n        self.told = 1\n"),
     ("L27", "def f(a):\n    return '%' + a\n"),
     ("L7", "def f(a):\n    return f'{a!a}'\n"),
+    ("L7", "def f(a):\n    return f(*a)\n"),
+    ("L7", "def f(a):\n    return [[k for k in a] for k in a]\n"),
+    ("L6", METHOD + "def f(a):\n    del a.told\n"),
+    ("L22", METHOD + "def f(a):\n    return a.told()\n"),
+    ("L22", METHOD.replace("told", "__init__").replace("return a", "pass") + "def f():\n    return A()\n"),
     ("L7", "def f(a):\n    return f'{a:.2f}'\n"),
 ]
 
