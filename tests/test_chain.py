@@ -16,6 +16,7 @@ from bitloom.cells import check_cells
 from bitloom.chain import STEP_WORDS, flat_room, graph_room, is_enough, made, stepped
 from bitloom.clocks import outputs
 from bitloom.configs import config_of
+from bitloom.easing import eased, levelled
 from bitloom.errors import BadDesign, BadRing, NoRoom
 from bitloom.fabric import fabric_for
 from bitloom.graphrun import graph_outputs
@@ -23,6 +24,7 @@ from bitloom.graphs import cut_graph, has_one_names
 from bitloom.labels import least_depth
 from bitloom.laid import check_laid
 from bitloom.machine import read_back
+from bitloom.making import made_anew
 from bitloom.merging import merged
 from bitloom.moving import moved_least
 from bitloom.nets import is_tight, net_depth, run_net
@@ -49,6 +51,9 @@ class SteppedTest(LoomTest):
         self.assertEqual(stepped(graph, ("moved",))[1], moved_least(graph)[1])
         self.assertEqual(stepped(graph, ("moved", "moved"))[1], moved_least(graph)[1] + moved_least(moved_least(graph)[0])[1])
         self.assertGreater(stepped(graph, ("moved",))[1], 0)
+        for word, call in (("merged", merged), ("eased", eased), ("levelled", levelled)):
+            self.assertEqual(stepped(graph, (word,)), (cut_graph(made_anew(call(graph), {})), 0))
+        self.assertEqual(stepped(graph, ("moved",))[0], cut_graph(moved_least(graph)[0]))
         # And nodes with two names are made anew without any step.
         self.assertEqual(stepped((2, (), ((4, 2), (2, 4), (6, 9)), (10,)), ()), ((2, (), (), (0,)), 0))
 
@@ -152,11 +157,12 @@ class RoomTest(LoomTest):
     def test_by_hand(self):
         self.assertEqual(graph_room(HOLDING_G), (1 + 2 * 3, 8, 2))
         self.assertEqual(graph_room((5, (), (), (1,))), (2, 7, 5))
+        self.assertEqual(graph_room((1, ((0, 2), (1, 4), (0, 10)), ((2, 4),), (6, 6, 6, 7, 1))), (1 + 2 * 8, 18, 5))
         self.assertEqual(flat_room(C_FLAT), (size_bound(C_FLAT) + 2 * 16, size_bound(C_FLAT) + 33, 8))
         self.assertEqual(graph_room((0, (), (), ())), (0, 0, 0))
 
     def test_is_enough(self):
-        for fabric, told in [((4, 4, 20, 2, 2), True), ((4, 3, 20, 2, 2), False), ((4, 4, 19, 2, 2), False), ((4, 4, 20, 2, 1), False),
+        for fabric, told in [((4, 4, 20, 2, 2), True), ((4, 3, 20, 2, 2), False), ((4, 4, 19, 2, 2), False), ((4, 4, 20, 2, 1), False), ((5, 3, 20, 2, 2), False), ((6, 3, 20, 2, 2), True),
                              ((16, 1, 20, 6, 1), False), ((16, 1, 20, 6, 2), True)]:
             self.assertIs(is_enough(fabric, (16, 20, 24)), told)
         self.assertIs(is_enough((4, 4, 60, 2, 1), (16, 60, 12)), True)

@@ -69,6 +69,7 @@ class ConsoleTest(LoomTest):
         self.answers(console, ("fault;", "design top"), ("work;", "design"), ("depth;", "no fault"), ("shift;", "no fault"), ("rows;", "no fault"),
                      ("row 0;", "no fault"), ("run 5, 5, 5;", "no fault"), ("run;", "no fault"), ("work;", "design"))
         self.answers(console, ("put module m { out z bits 1; };", "done"), ("top m;", "done"), ("fault;", "design driven  0 0 2 0"))
+        self.answers(console, ("put module m { in a bits 1; out z bits 1; };", "done"), ("fault;", "design driven  0 0 2 1"), ("undo;", "done"))
         self.answers(console, ("put module o { m : m (); };", "done"), ("top o;", "done"), ("fault;", "design driven m 0 0 2 0"))
         self.answers(console, ("top other;", "done"), ("fault;", "design module  1 0"), ("top m;", "done"))
         self.answers(console, ("put module m { out z bits 1; out y bits 1; z = y; y = z; };", "done"))
@@ -77,6 +78,11 @@ class ConsoleTest(LoomTest):
         self.answers(console, ("put module m { out z bits 1; z = bits(1, 1); };", "done"), ("fault;", "net fabric"), ("shift;", "0"),
                      ("depth;", "no fault"), ("fabric 1 1 1 2 1;", "done"), ("fault;", "none"), ("put module m { in a bits 9; };", "done"),
                      ("fault;", "laid ins"), ("depth;", "0"), ("rows;", "no fault"))
+        console = console_with(["put module m { out y bits 1; out z bits 1; y = bits(1, 0); z = bits(1, 1); };", "top m;", "fabric 1 1 9 2 8;"])
+        self.answers(console, ("fault;", "laid cells"), ("row 0;", "no fault"))
+        # Without items there is a machine, too.
+        console = console_with(["put module m { };", "top m;", "fabric 1 1 1 2 1;"])
+        self.answers(console, ("fault;", "none"), ("run -; -;", "-; -"), ("depth;", "0"), ("rows;", "2"))
 
     def test_answers(self):
         desk = Desk()
