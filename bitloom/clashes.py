@@ -29,34 +29,35 @@ class Spreader:
             self.row.append(literal)
         return -literal not in self.true
 
-    def _moved_on(self, clause, literal):
-        """Let a clause wait for another literal than one that is false; return whether there is one."""
-        if clause[0] == literal:
-            clause[0], clause[1] = clause[1], literal
-        for place in range(2, len(clause)):
-            other = clause[place]
-            if -other not in self.true:
-                clause[1], clause[place] = other, literal
-                self.waiting.setdefault(other, []).append(clause)
-                return True
-        return False
+    def _clash_behind(self, literal):
+        """Let the clauses go on that waited for a literal, which is false; return whether one of them clashes."""
+        true, waiting = self.true, self.waiting
+        clauses = waiting.pop(literal, [])
+        kept = []
+        waiting[literal] = kept
+        is_lost = False
+        for clause in clauses:
+            if clause[0] == literal:
+                clause[0], clause[1] = clause[1], literal
+            if is_lost or clause[0] in true:
+                kept.append(clause)
+                continue
+            for place in range(2, len(clause)):
+                other = clause[place]
+                if -other not in true:
+                    clause[1], clause[place] = other, literal
+                    waiting.setdefault(other, []).append(clause)
+                    break
+            else:
+                kept.append(clause)
+                is_lost = not self.hold(clause[0])
+        return is_lost
 
     def settle(self):
         """Let what is true spread as far as it does; return whether no clash comes."""
         while self.done < len(self.row):
-            literal = -self.row[self.done]
             self.done += 1
-            clauses = self.waiting.pop(literal, [])
-            kept = []
-            is_right = True
-            for clause in clauses:
-                if not is_right or clause[0] in self.true or clause[1] in self.true:
-                    kept.append(clause)
-                elif not self._moved_on(clause, literal):
-                    kept.append(clause)
-                    is_right = self.hold(clause[0])
-            self.waiting[literal] = kept
-            if not is_right:
+            if self._clash_behind(-self.row[self.done - 1]):
                 return False
         return True
 
