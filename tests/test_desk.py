@@ -201,8 +201,12 @@ class AskTest(LoomTest):
     def test_beside_a_plain_model(self):
         dice = random.Random(1)
         faults = set()
-        for _ in range(25):
+        asked = {name: 0 for name in UP_TO}
+        for k in range(60):
             desk, model = Desk(), ModelDesk()
+            for act in [("put", MODULES[6]), ("put", MODULES[2]), ("top", "m", ()), ("fabric", FABRICS[1])] if k % 2 else []:
+                desk.do(act)
+                model.do(act)
             for _ in range(40):
                 kind = dice.randrange(12)
                 if kind < 6:
@@ -224,18 +228,20 @@ class AskTest(LoomTest):
                 elif kind == 8:
                     desk = desk.twin()
                 else:
-                    self.ask(dice, desk, model, faults)
+                    asking, fault = self.ask(dice, desk, model)
+                    faults.add(fault)
+                    asked[asking] += fault is None
                 modules, top, steps, fabric = model.stand()
                 self.assertEqual((desk.modules(), desk.top(), desk.steps(), desk.fabric()), (modules, top, steps, fabric))
                 self.assertEqual((desk.design(), desk.acts(), desk.work()), (model.design(), model.done, model.work))
         self.assertLessEqual({None, ("design", "top"), ("net", "fabric"), ("laid", "cells"), ("design", ("z",))}, faults)
+        self.assertGreater(min(asked.values()), 5, asked)
 
-    def ask(self, dice, desk, model, faults):
-        """Ask both the same."""
+    def ask(self, dice, desk, model):
+        """Ask both the same; return what was asked, and the fault."""
         asking = dice.choice(list(UP_TO))
         ahead = model.work
         fault, told = model.ask(asking)
-        faults.add(fault)
         lots = random_lots(dice, in_widths(told["flat"]), 5) if "flat" in told else []
         passed = [lots] if asking == "outputs" else []
         if asking == "fault":
@@ -257,7 +263,7 @@ class AskTest(LoomTest):
         for act in model.done:
             other.do(act)
         self.assertEqual(other.fault(), desk.twin().fault())
-        self.assertTrue(FABRICS)
+        return asking, fault
 
 
 if __name__ == "__main__":
