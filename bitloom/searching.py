@@ -3,7 +3,7 @@
 from bitloom.deciding import Chooser
 
 PATIENCE = 64
-MOST_LEARNED = 3000
+MOST_LEARNED = 1000
 GOOD = 3
 
 
