@@ -482,6 +482,32 @@ def look_at_class_calls(file, classes):
             file.tell(node, "L6")
 
 
+def look_at_class_uses(file, names):
+    """A class is called, is a base class, or stands in isinstance, except or raise (L18)."""
+    for node in file.nodes(ast.Name):
+        if node.id not in names or not isinstance(node.ctx, ast.Load):
+            continue
+        parent = file.parents[node]
+        if isinstance(parent, ast.Tuple):
+            parent = file.parents[parent]
+        is_called = isinstance(parent, ast.Call) and (
+            parent.func is node or isinstance(parent.func, ast.Name) and parent.func.id == "isinstance"
+        )
+        if not is_called and not isinstance(parent, (ast.ClassDef, ast.ExceptHandler)):
+            file.tell(node, f"L18 {node.id}")
+
+
+def look_at_file_names(file):
+    """Names of files (L1, L14)."""
+    name = file.path.stem
+    if name == "__init__":
+        return
+    if not re.fullmatch(r"[a-z0-9_]+", name) or hasattr(builtins, name) or re.match(r"(law_|test_)", name):
+        file.tell(file.tree, "L14")
+    if name in NOT_NAMES | set(LIBRARY) | {"test", "tests", "testing", "site", "conftest", "sitecustomize", "usercustomize"}:
+        file.tell(file.tree, "L14")
+
+
 def comprehension_names(node):
     """The names that a comprehension assigns."""
     targets = [part for generator in node.generators for part in ast.walk(generator.target)]
@@ -547,6 +573,8 @@ def finds(folder):
         look_at_lines(file)
         look_at_counts(file, modules)
         look_at_class_calls(file, classes)
+        look_at_class_uses(file, {node.name for node in classes})
+        look_at_file_names(file)
         look_at_comprehensions(file)
         for node in file.nodes(ast.Attribute):
             if isinstance(node.ctx, ast.Load) and node.attr not in stored | methods | METHODS:

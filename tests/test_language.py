@@ -14,6 +14,7 @@ ALLOWED = [
     METHOD + "def f(a):\n    return a.told(1)\n",
     METHOD + "def f(a, b):\n    return sorted(a, key=b.told)\n",
     "def f(a):\n    return f'{a:04x} {a} {len(a)}'\n",
+    METHOD + "def f(a):\n    return isinstance(a, (A, int)) or isinstance(A(), A)\n",
 ]
 
 BARRED = [
@@ -46,6 +47,8 @@ BARRED = [
     ("L7", "def f(a):\n    return f(*a)\n"),
     ("L7", "def f(a):\n    return [[k for k in a] for k in a]\n"),
     ("L6", METHOD + "def f(a):\n    del a.told\n"),
+    ("L18", METHOD + "def f(a):\n    return [A]\n"),
+    ("L18", METHOD + "def f(a):\n    k = A\n    return k()\n"),
     ("L22", METHOD + "def f(a):\n    return a.told()\n"),
     ("L22", METHOD.replace("told", "__init__").replace("return a", "pass") + "def f():\n    return A()\n"),
     ("L7", "def f(a):\n    return f'{a:.2f}'\n"),
@@ -73,6 +76,14 @@ class LanguageTest(unittest.TestCase):
         for rule, text in BARRED:
             with self.subTest(text=text):
                 self.assertTrue(any(rule in found.split() for _, _, found in self.finds_in(text)))
+
+    def test_names_of_files(self):
+        for name in ("len", "Part", "test", "test_a", "law_a", "heapq", "site", "open", "a-b"):
+            with tempfile.TemporaryDirectory() as folder:
+                path = pathlib.Path(folder) / "loom"
+                path.mkdir()
+                (path / f"{name}.py").write_text("K = 1\n", encoding="utf-8")
+                self.assertEqual({rule for _, _, rule in finds(path)}, {"L14"}, name)
 
     def test_what_is_allowed_is_not_found(self):
         for text in ALLOWED:
