@@ -121,6 +121,13 @@ class LayingTest(LoomTest):
                 self.assertEqual(lay_placed(fabric, cells, placing), laid)
         self.assertGreater(min(found), 20)
 
+    def test_one_gives_way_to_another(self):
+        # Taken one after another, without any giving way, the signals of this net would not all come through.
+        fabric = (2, 2, 1, 3, 2)
+        cells = (3, 0, (((0, 1, 2), 8, 1, 1), ((0, 1, 2), 4, 1, 1), ((1, 0), 13, 0, 0)), (1, 2, 2))
+        placing = (((0, 0), (0, 1), (1, 0)), (), ((0, 1, 1), (0, 0, 1), (1, 1, 0)))
+        self.is_laid(fabric, cells, lay_placed(fabric, cells, placing), placing)
+
     def test_fabrics_told_by_counts(self):
         dice = random.Random(4)
         for _ in range(15):
