@@ -1,8 +1,8 @@
 """The acts that change what stands at a desk."""
 
 from bitloom.chain import STEP_WORDS
-from bitloom.errors import BadFabric, BadTree
-from bitloom.fabric import check_fabric
+from bitloom.errors import BadTree
+from bitloom.fabric import is_fabric
 from bitloom.names import is_count, is_name
 from bitloom.trees import check_tree
 
@@ -68,15 +68,6 @@ def _are_steps(value):
     return all([isinstance(word, str) and word in STEP_WORDS for word in value])
 
 
-def _is_fabric(value):
-    """Whether a value, which may be anything, is a fabric."""
-    try:
-        check_fabric(value)
-    except BadFabric:
-        return False
-    return True
-
-
 def word_against(standing, act):
     """The word with which an act, which may be anything, cannot be done, or None."""
     if not isinstance(act, tuple) or not act or not isinstance(act[0], str) or len(act) != MEMBERS.get(act[0]):
@@ -89,4 +80,4 @@ def word_against(standing, act):
         return None if _is_top(act[1], act[2]) else "top"
     if act[0] == "steps":
         return None if _are_steps(act[1]) else "steps"
-    return None if _is_fabric(act[1]) else "fabric"
+    return None if is_fabric(act[1]) else "fabric"

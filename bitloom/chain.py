@@ -8,11 +8,13 @@ from bitloom.easing import eased, levelled
 from bitloom.fabric import pads_of
 from bitloom.graphs import cut_graph
 from bitloom.laying import lay
+from bitloom.machine import read_back
 from bitloom.making import made_anew
 from bitloom.mapping import mapped
 from bitloom.merging import merged
 from bitloom.moving import moved_least
 from bitloom.unrolling import flat_of
+from bitloom.values import bit_lot, value_lot
 
 STEP_WORDS = ("merged", "eased", "levelled", "moved")
 
@@ -53,6 +55,13 @@ def made(design, steps, fabric):
     cells = cells_of(net)
     laid = lay(fabric, cells)
     return flat, graph, shift, net, cells, laid, bits_made(fabric, cells, laid)
+
+
+def values_told(flat, bits, lots):
+    """The list of the values of a flat design's outs for lots of its ins, as the machine read back tells them."""
+    widths, out_wide = in_widths(flat), out_widths(flat)
+    machine = read_back(bits)
+    return [value_lot(out_wide, machine.step(bit_lot(widths, lot))) for lot in lots]
 
 
 def _room(ands, registers, outs, ins):

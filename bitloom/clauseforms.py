@@ -1,6 +1,7 @@
 """The clauses of graphs: within a clock, unrolled, and those of which barrings show what holds of graphs."""
 
 from bitloom.clashes import by_letters
+from bitloom.graphs import first_and, many_nodes
 
 
 def literal_of(literal):
@@ -23,11 +24,6 @@ def _clauses_told(rows):
     return found
 
 
-def _many_nodes(graph):
-    """How many nodes a graph has."""
-    return 1 + graph[0] + len(graph[1]) + len(graph[2])
-
-
 def _and_rows(letter, one, other):
     """The rows of literals that tell an and node with a letter by its two clause literals."""
     return [(-letter, one), (-letter, other), (letter, -one, -other)]
@@ -40,7 +36,7 @@ def _unlike_rows(letter, one, other):
 
 def clauses_of(graph):
     """The list of the clauses of a graph."""
-    first = _many_nodes(graph) - len(graph[2])
+    first = first_and(graph)
     rows = [(-1,)]
     for place, (one, other) in enumerate(graph[2]):
         rows.extend(_and_rows(first + place + 1, literal_of(one), literal_of(other)))
@@ -49,7 +45,7 @@ def clauses_of(graph):
 
 def unrolled(graph, clocks):
     """The list of the clauses of a graph unrolled for so many clocks."""
-    many = _many_nodes(graph)
+    many = many_nodes(graph)
     plain = clauses_of(graph)
     found = []
     for clock in range(clocks):
@@ -69,14 +65,14 @@ def starting(graph):
 
 def parting(one, other):
     """The list of the parting clauses of two graphs with as many in bits, registers and outs."""
-    shared = 1 + one[0] + len(one[1])
+    shared = first_and(one)
     rows = []
     # The nodes that both share, and the and nodes of the first one, have the letters that they have in it.
     for place, (left, right) in enumerate(other[2]):
-        letter = _many_nodes(one) + place + 1
+        letter = many_nodes(one) + place + 1
         rows.extend(_and_rows(letter, _in_other(left, shared, len(one[2])), _in_other(right, shared, len(one[2]))))
     pairs = list(zip(one[3], other[3])) + [(left[1], right[1]) for left, right in zip(one[1], other[1])]
-    first = _many_nodes(one) + len(other[2]) + 1
+    first = many_nodes(one) + len(other[2]) + 1
     parts = [(literal_of(left), _in_other(right, shared, len(one[2]))) for left, right in pairs]
     return clauses_of(one) + _clauses_told(rows) + _parted(parts, first)
 
@@ -124,12 +120,12 @@ def joint(one, other):
 def first_clauses(graph, pairs):
     """The list of the clauses of the first barring for pairs of literals of a graph."""
     parts = [(literal_of(left), literal_of(right)) for left, right in pairs]
-    return unrolled(graph, 1) + starting(graph) + _parted(parts, _many_nodes(graph) + 1)
+    return unrolled(graph, 1) + starting(graph) + _parted(parts, many_nodes(graph) + 1)
 
 
 def step_clauses(graph, pairs):
     """The list of the clauses of the step barring for pairs of literals of a graph."""
-    many = _many_nodes(graph)
+    many = many_nodes(graph)
     parts = [(literal_of(left), literal_of(right)) for left, right in pairs]
     same = [row for left, right in parts for row in ((-left, right), (left, -right))]
     late = [(_late(left, many), _late(right, many)) for left, right in parts]
@@ -138,7 +134,7 @@ def step_clauses(graph, pairs):
 
 def first_holds(graph, out, k):
     """The list of the clauses of the first barring for an out and k clocks."""
-    many = _many_nodes(graph)
+    many = many_nodes(graph)
     literal = literal_of(graph[3][out])
     opposites = tuple([-_late(literal, clock * many) for clock in range(k)])
     return unrolled(graph, k) + starting(graph) + _clauses_told([opposites])
@@ -146,7 +142,7 @@ def first_holds(graph, out, k):
 
 def _apart(graph, one, other, first):
     """The list of the clauses that tell that registers are unlike at two clocks, with more letters from first on."""
-    many = _many_nodes(graph)
+    many = many_nodes(graph)
     rows = []
     for place in range(len(graph[1])):
         letter = graph[0] + place + 2
@@ -158,7 +154,7 @@ def _apart(graph, one, other, first):
 
 def step_holds(graph, out, k):
     """The list of the clauses of the step barring for an out and k clocks."""
-    many = _many_nodes(graph)
+    many = many_nodes(graph)
     literal = literal_of(graph[3][out])
     found = unrolled(graph, k + 1)
     found.extend([(_late(literal, clock * many),) for clock in range(k)])

@@ -1,7 +1,7 @@
 """Configs of fabrics: menus, whether a value is a config, rings, and the configs of what is laid."""
 
-from bitloom.errors import BadConfig, BadFabric
-from bitloom.fabric import check_fabric, is_border, is_wire, neighbour, tiles_of, wire_in
+from bitloom.errors import BadConfig
+from bitloom.fabric import is_border, is_fabric, is_wire, neighbour, tiles_of, wire_in
 from bitloom.menus import input_menu, is_place, out_menu, stands_in, wire_menu
 from bitloom.names import is_below, is_value
 from bitloom.wiring import CELL
@@ -71,21 +71,12 @@ def _check_tile(fabric, tile, value, path):
     _check_sources(fabric, tile, outs, fabric[4] if is_border(fabric, x, y) else 0, (*path, 5))
 
 
-def _is_fabric(value):
-    """Whether a value, which may be anything, is a fabric."""
-    try:
-        check_fabric(value)
-    except BadFabric:
-        return False
-    return True
-
-
 def check_config(value):
     """Raise BadConfig with the path of the first wrong part, if a value is no config."""
     if not isinstance(value, tuple) or len(value) != MEMBERS:
         raise BadConfig(())
     fabric, ins, outs, tiles = value
-    if not _is_fabric(fabric):
+    if not is_fabric(fabric):
         raise BadConfig((0,))
     _check_places(fabric, ins, 1)
     _check_places(fabric, outs, 2)

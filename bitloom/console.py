@@ -1,13 +1,12 @@
 """Consoles, which read lines for a desk and answer them."""
 
 from bitloom.bits import bits_text
-from bitloom.blasting import in_widths, out_widths
+from bitloom.blasting import in_widths
+from bitloom.chain import values_told
 from bitloom.errors import BadAct, BadText, NothingDone, NotReady
-from bitloom.machine import read_back
 from bitloom.names import is_value
 from bitloom.nets import net_depth
 from bitloom.reading import read_line
-from bitloom.values import bit_lot, value_lot
 
 ACTS = ("put", "drop", "top", "steps", "fabric")
 STEPS_BACK = ("undo", "redo")
@@ -65,12 +64,10 @@ class Console:
         bits = self.desk.bits()
         # A twin is asked for the flat design, so that the desk's work stays that of the bits.
         flat = self.desk.twin().flat()
-        widths, out_wide = in_widths(flat), out_widths(flat)
+        widths = in_widths(flat)
         if not all([_is_lot(widths, lot) for lot in lots]):
             return "no lot"
-        machine = read_back(bits)
-        outs = [value_lot(out_wide, machine.step(bit_lot(widths, lot))) for lot in lots]
-        return "; ".join([_lot_told(values) for values in outs])
+        return "; ".join([_lot_told(values) for values in values_told(flat, bits, lots)])
 
     def _question(self, told):
         """The answer to a line that asks something."""

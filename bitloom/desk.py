@@ -1,11 +1,10 @@
 """A desk at which designs are put and changed, and what is made of them is asked."""
 
 from bitloom.acts import Standing, word_against
-from bitloom.blasting import in_widths, out_widths
+from bitloom.chain import values_told
 from bitloom.errors import BadAct, NothingDone, NotReady
 from bitloom.machine import read_back
 from bitloom.stages import Asking
-from bitloom.values import bit_lot, value_lot
 
 
 class Desk:
@@ -137,9 +136,7 @@ class Desk:
     def outputs(self, lots):
         """The list of the lots of values of the outs, for a list of lots of values of the ins."""
         told = self._asked("bits")
-        widths, out_wide = in_widths(told["flat"]), out_widths(told["flat"])
-        machine = read_back(told["bits"])
-        return [value_lot(out_wide, machine.step(bit_lot(widths, lot))) for lot in lots]
+        return values_told(told["flat"], told["bits"], lots)
 
     def twin(self):
         """A desk that stands as this one, and goes its own way."""

@@ -20,6 +20,15 @@ def check_fabric(value):
             raise BadFabric((n,))
 
 
+def is_fabric(value):
+    """Whether a value, which may be anything, is a fabric."""
+    try:
+        check_fabric(value)
+    except BadFabric:
+        return False
+    return True
+
+
 def neighbour(fabric, x, y, side):
     """The neighbour of a tile on a side, or None."""
     wide, high, _, _, _ = fabric

@@ -1,10 +1,8 @@
 """Times of what is laid: table times, the delay and the longest ways, and runs in time."""
 
 from bitloom.fabric import wire_in
-from bitloom.waves import WaveRun
+from bitloom.waves import TABLE, WaveRun
 from bitloom.wiring import LaidWires
-
-TABLE = 4
 
 
 class Times:
